@@ -1,0 +1,43 @@
+"""Each name of the interface stands where it is listed, with its arguments."""
+
+import inspect
+import unittest
+
+from valvelevels import errors, places, polynomials
+
+FUNCTIONS = {
+    polynomials: {
+        "trimmed": ["numbers"], "plus": ["one", "other"], "times": ["one", "other"], "value": ["one", "spot"],
+        "rest": ["one", "other"], "common": ["one", "other"], "plain": ["one"]},
+    places: {
+        "row": ["one"], "turns": ["told", "spot"], "number_of_roots": ["one", "low", "high"], "places": ["one"],
+        "sign": ["one", "place"], "compare": ["one", "other"], "simplest": ["stretch"],
+        "has": ["told", "place"], "united": ["told"], "without": ["one", "other"], "same": ["one", "other"]}}
+
+
+class Interface(unittest.TestCase):
+    def test_functions_are_defined_where_they_are_listed(self):
+        for module, functions in FUNCTIONS.items():
+            for name, arguments in functions.items():
+                with self.subTest(name):
+                    function = getattr(module, name)
+                    self.assertTrue(inspect.isfunction(function))
+                    self.assertEqual(function.__module__, module.__name__)
+                    self.assertEqual(function.__name__, name)
+
+    def test_arguments_have_their_names_and_order(self):
+        for module, functions in FUNCTIONS.items():
+            for name, arguments in functions.items():
+                with self.subTest(name):
+                    found = inspect.signature(getattr(module, name)).parameters
+                    self.assertEqual(list(found), arguments)
+                    for parameter in found.values():
+                        self.assertEqual(parameter.kind, parameter.POSITIONAL_OR_KEYWORD)
+                        self.assertIs(parameter.default, parameter.empty)
+
+    def test_errors_take_a_value(self):
+        self.assertEqual(list(inspect.signature(errors.TankError).parameters), ["value"])
+
+
+if __name__ == "__main__":
+    unittest.main()

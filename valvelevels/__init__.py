@@ -1,0 +1,1 @@
+"""Valvelevels: tanks joined by valves, one width unknown."""
