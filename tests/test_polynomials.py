@@ -1,8 +1,8 @@
-import copy
 import random
 import unittest
 
 import oracle
+from checking import Checks
 from valvelevels.errors import InvalidFraction, InvalidPolynomial
 from valvelevels.polynomials import common, plain, plus, rest, times, trimmed, value
 
@@ -24,7 +24,8 @@ def samples(seed, many=300, longest=6, most=9):
 
 class Trimmed(unittest.TestCase):
     def test_zeros_at_the_end_alone_go(self):
-        for numbers, expected in [([], []), ([0], []), ([0, 0, 0], []), ([0, 2, 0], [0, 2]), ([1, 0, 0, -2], [1, 0, 0, -2]),
+        for numbers, expected in [([], []), ([0], []), ([0, 0, 0], []), ([0, 2, 0], [0, 2]),
+            ([1, 0, 0, -2], [1, 0, 0, -2]),
                                   ([-1, 0], [-1]), ([0, 0, 5, 0, 0], [0, 0, 5])]:
             self.assertEqual(trimmed(numbers), expected)
             self.assertEqual(trimmed(numbers=numbers), expected)
@@ -63,7 +64,8 @@ class Sums(unittest.TestCase):
 class Values(unittest.TestCase):
     def test_told_values(self):
         for one, spot, expected in [([], (3, 7), (0, 1)), ([5], (-3, 7), (5, 1)), ([1, -4, 1], (1, 2), (-3, 4)),
-                                    ([0, 2], (1, 2), (1, 1)), ([-1, 2], (1, 2), (0, 1)), ([1, 0, 0, 8], (-1, 2), (0, 1)),
+                                    ([0, 2], (1, 2), (1, 1)), ([-1, 2], (1, 2), (0, 1)),
+                                    ([1, 0, 0, 8], (-1, 2), (0, 1)),
                                     ([2, 3], (0, 1), (2, 1)), ([0, 0, 6], (1, 3), (2, 3)), ([0, -6], (1, 4), (-3, 2))]:
             with self.subTest(one=one, spot=spot):
                 self.assertEqual(value(one, spot), expected)
@@ -116,7 +118,8 @@ class Factors(unittest.TestCase):
 
 class Plain(unittest.TestCase):
     def test_told_plain_polynomials(self):
-        for one, expected in [([1], [1]), ([-6], [1]), ([1, 2, 1], [1, 1]), ([0, 0, 2], [0, 1]), ([0, 0, 0, -3], [0, 1]),
+        for one, expected in [([1], [1]), ([-6], [1]), ([1, 2, 1], [1, 1]), ([0, 0, 2], [0, 1]),
+            ([0, 0, 0, -3], [0, 1]),
                               ([2, -8, 2], [1, -4, 1]), ([-1, 4, -1], [1, -4, 1]), ([4, 2], [2, 1]),
                               ([1, -1, -1, 1], [-1, 0, 1]), ([4, 0, -4, 0, 1], [-2, 0, 1]), ([3, -6], [-1, 2])]:
             with self.subTest(one=one):
@@ -134,53 +137,43 @@ class Plain(unittest.TestCase):
                 self.assertEqual(plain(found), found)
 
 
-class Errors(unittest.TestCase):
-    def check(self, made, passed, call, *arguments, **named):
-        with self.assertRaises(made) as held:
-            call(*arguments, **named)
-        self.assertIs(type(held.exception), made)
-        self.assertEqual(held.exception.value, passed)
-        self.assertIs(type(held.exception.value), type(passed))
-        kept = oracle.lists_in(held.exception.value)
-        given = oracle.lists_in(list(arguments) + list(named.values()))
-        self.assertFalse({id(part) for part in kept} & {id(part) for part in given})
-
+class Errors(Checks):
     def test_what_is_no_polynomial(self):
         for bad in NO_POLYNOMIALS:
             with self.subTest(bad=bad):
                 for call in (plus, times, rest, common):
-                    self.check(InvalidPolynomial, bad, call, bad, [1, 1])
-                    self.check(InvalidPolynomial, bad, call, [1, 1], bad)
-                    self.check(InvalidPolynomial, bad, call, [], bad)
-                    self.check(InvalidPolynomial, bad, call, one=[1], other=bad)
-                    self.check(InvalidPolynomial, bad, call, other=[2, 0], one=bad)
-                self.check(InvalidPolynomial, bad, value, bad, (1, 1))
-                self.check(InvalidPolynomial, bad, plain, bad)
-                self.check(InvalidPolynomial, bad, plain, one=bad)
+                    self.check_error(InvalidPolynomial, bad, call, bad, [1, 1])
+                    self.check_error(InvalidPolynomial, bad, call, [1, 1], bad)
+                    self.check_error(InvalidPolynomial, bad, call, [], bad)
+                    self.check_error(InvalidPolynomial, bad, call, one=[1], other=bad)
+                    self.check_error(InvalidPolynomial, bad, call, other=[2, 0], one=bad)
+                self.check_error(InvalidPolynomial, bad, value, bad, (1, 1))
+                self.check_error(InvalidPolynomial, bad, plain, bad)
+                self.check_error(InvalidPolynomial, bad, plain, one=bad)
 
     def test_the_first_one_is_told(self):
         for call in (plus, times, rest, common):
-            self.check(InvalidPolynomial, [1, 0], call, [1, 0], [2, 0])
-            self.check(InvalidPolynomial, [1, 0], call, [1, 0], [])
+            self.check_error(InvalidPolynomial, [1, 0], call, [1, 0], [2, 0])
+            self.check_error(InvalidPolynomial, [1, 0], call, [1, 0], [])
 
     def test_zero(self):
-        self.check(InvalidPolynomial, [], rest, [1, 1], [])
-        self.check(InvalidPolynomial, [], rest, [], [])
-        self.check(InvalidPolynomial, [], rest, one=[5], other=[])
-        self.check(InvalidPolynomial, [], plain, [])
-        self.check(InvalidPolynomial, [], plain, one=[])
-        self.check(InvalidPolynomial, [0], plain, [0])
+        self.check_error(InvalidPolynomial, [], rest, [1, 1], [])
+        self.check_error(InvalidPolynomial, [], rest, [], [])
+        self.check_error(InvalidPolynomial, [], rest, one=[5], other=[])
+        self.check_error(InvalidPolynomial, [], plain, [])
+        self.check_error(InvalidPolynomial, [], plain, one=[])
+        self.check_error(InvalidPolynomial, [0], plain, [0])
 
     def test_what_is_no_fraction(self):
         for bad in NO_FRACTIONS:
             with self.subTest(bad=bad):
-                self.check(InvalidFraction, bad, value, [1, 1], bad)
-                self.check(InvalidFraction, bad, value, [], bad)
-                self.check(InvalidFraction, bad, value, one=[1], spot=bad)
-                self.check(InvalidPolynomial, [1, 0], value, [1, 0], bad)
+                self.check_error(InvalidFraction, bad, value, [1, 1], bad)
+                self.check_error(InvalidFraction, bad, value, [], bad)
+                self.check_error(InvalidFraction, bad, value, one=[1], spot=bad)
+                self.check_error(InvalidPolynomial, [1, 0], value, [1, 0], bad)
 
 
-class NewLists(unittest.TestCase):
+class NewLists(Checks):
     CALLS = [(trimmed, [[1, 2]]), (trimmed, [[]]), (plus, [[1, 2], []]), (plus, [[], [1, 2]]), (plus, [[], []]),
              (times, [[1], [2, 3]]), (times, [[], [1]]), (times, [[1], [1]]), (rest, [[1], [1, 1]]), (rest, [[], [1]]),
              (rest, [[1, 2], [1, 1, 1]]), (common, [[1, 1], []]), (common, [[], [1, 1]]), (common, [[], []]),
@@ -189,15 +182,7 @@ class NewLists(unittest.TestCase):
     def test_nothing_is_changed_or_kept(self):
         for call, arguments in self.CALLS:
             with self.subTest(call.__name__, arguments=arguments):
-                before = copy.deepcopy(arguments)
-                found = call(*arguments)
-                self.assertEqual(arguments, before)
-                expected = copy.deepcopy(found)
-                self.assertFalse([part for part in oracle.lists_in(found) if any(part is one for one in arguments)])
-                if isinstance(found, list):
-                    found.append(9)
-                self.assertEqual(arguments, before)
-                self.assertEqual(call(*arguments), expected)
+                self.check_nothing_kept(call, *arguments)
 
     def test_one_list_may_be_passed_twice(self):
         one = [2, 4]

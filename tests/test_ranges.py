@@ -7,6 +7,7 @@ import unittest
 from fractions import Fraction
 
 import oracle
+from checking import Checks
 from oracle import near, product, read, root
 from valvelevels.errors import InvalidPlace, InvalidRange
 from valvelevels.places import compare, has, same, simplest, united, without
@@ -18,7 +19,8 @@ LOW, HIGH = root([1, -4, 1], 0, 1), root([1, -4, 1], 3, 4)
 # Numbers, ascending, each told in several ways.
 TOLD = [
     [(1, 3)],
-    [root([-1, 0, 2], 0, 1), root([1, 0, -2], Fraction(7, 10), Fraction(3, 4)), root(product([-1, 0, 2], [-3, 0, 1]), 0, Fraction(6, 5))],
+    [root([-1, 0, 2], 0, 1), root([1, 0, -2], Fraction(7, 10), Fraction(3, 4)),
+    root(product([-1, 0, 2], [-3, 0, 1]), 0, Fraction(6, 5))],
     [(1, 1)],
     [ROOT_2, root(product([-2, 0, 1], [-1, 1]), Fraction(5, 4), 2), root([-4, 0, 0, 0, 1], 0, 10 ** 15)],
     [root([-200000001, 0, 10 ** 8], 1, 2), root([-200000001, 0, 10 ** 8], Fraction(14142135, 10 ** 7), Fraction(3, 2))],
@@ -31,13 +33,17 @@ NO_RANGES = [
     ((0, 1), 0, None, False), ((0, 1), False, None, 0), ((0, 1), None, (1, 1), True), ((1, 1), 1, (2, 1), True),
     ((1, 1), True, (2, 1), 1), ((1, 1), "yes", (2, 1), True),
     # no place
-    (None, False, None, False), (None, False, (1, 1), True), ((0, 1), False, (0, 1), False), ((-1, 1), False, None, False),
+    (None, False, None, False), (None, False, (1, 1), True), ((0, 1), False, (0, 1), False),
+    ((-1, 1), False, None, False),
     ((2, 4), True, None, False), ((1, 1), True, (4, 2), False), (0, False, None, False), ((0, 2), False, None, False),
     ((False, True), False, None, False), ((1, 1), True, (0, 1), False),
-    (("root", [-2, 0, 1], (2, 1), (3, 1)), True, None, False), ((1, 1), True, ("root", [-2, 0, 1, 0], (1, 1), (2, 1)), True),
+    (("root", [-2, 0, 1], (2, 1), (3, 1)), True, None, False),
+    ((1, 1), True, ("root", [-2, 0, 1, 0], (1, 1), (2, 1)), True),
     # no place in it
-    ((1, 1), False, (1, 1), False), ((1, 1), True, (1, 1), False), ((1, 1), False, (1, 1), True), ((2, 1), True, (1, 1), True),
-    (ROOT_2, False, ROOT_2, True), (ROOT_2, True, TOLD[3][1], False), (ROOT_3, True, ROOT_2, True), (ROOT_2, True, (7, 5), True),
+    ((1, 1), False, (1, 1), False), ((1, 1), True, (1, 1), False), ((1, 1), False, (1, 1), True),
+    ((2, 1), True, (1, 1), True),
+    (ROOT_2, False, ROOT_2, True), (ROOT_2, True, TOLD[3][1], False), (ROOT_3, True, ROOT_2, True),
+    (ROOT_2, True, (7, 5), True),
     ((3, 2), False, ROOT_2, False), (ROOT_3, True, (1, 1), True)]
 
 
@@ -68,7 +74,8 @@ def all_ranges(spots):
 
 def in_places(source, numbers):
     """Ranges, told in any way, of ranges in numbers."""
-    return [((0, 1) if low == -1 else source.choice(TOLD[low]), low_in, None if high is None else source.choice(TOLD[high]), high_in)
+    return [((0, 1) if low == -1 else source.choice(TOLD[low]), low_in,
+        None if high is None else source.choice(TOLD[high]), high_in)
             for low, low_in, high, high_in in numbers]
 
 
@@ -99,15 +106,24 @@ class Simplest(unittest.TestCase):
     def test_told_ranges(self):
         for stretch, expected in [
                 (ALL, (1, 1)), (((0, 1), False, (1, 1), False), (1, 2)), (((0, 1), False, (1, 1), True), (1, 1)),
-                (((0, 1), False, (1, 2), False), (1, 3)), (((1, 1), False, None, False), (2, 1)), (((1, 1), True, None, False), (1, 1)),
-                (((1, 1), False, (2, 1), False), (3, 2)), (((1, 2), False, (3, 1), False), (1, 1)), (((5, 2), False, (9, 1), False), (3, 1)),
-                (((5, 2), True, (3, 1), False), (5, 2)), (((3, 2), False, (5, 3), False), (8, 5)), (((1, 3), False, (1, 2), False), (2, 5)),
-                (((1, 3), True, (1, 2), True), (1, 2)), (((2, 5), True, (3, 7), True), (2, 5)), (((2, 7), True, (2, 5), True), (1, 3)),
-                (((3, 1), True, (9, 1), True), (3, 1)), (((3, 1), False, (9, 1), True), (4, 1)), (((5, 7), True, (5, 7), True), (5, 7)),
-                (((999999, 1000000), False, (1, 1), False), (1000000, 1000001)), (((10 ** 15, 1), False, None, False), (10 ** 15 + 1, 1)),
-                (((0, 1), False, (1, 10 ** 15), False), (1, 10 ** 15 + 1)), (((0, 1), False, (1, 10 ** 15), True), (1, 10 ** 15)),
-                ((LOW, False, HIGH, False), (1, 1)), ((HIGH, True, None, False), (4, 1)), (((0, 1), False, LOW, True), (1, 4)),
-                ((ROOT_2, False, ROOT_3, False), (3, 2)), ((CUBE_2, True, ROOT_2, True), (4, 3)), ((ROOT_2, True, (3, 2), False), (10, 7)),
+                (((0, 1), False, (1, 2), False), (1, 3)), (((1, 1), False, None, False), (2, 1)),
+                (((1, 1), True, None, False), (1, 1)),
+                (((1, 1), False, (2, 1), False), (3, 2)), (((1, 2), False, (3, 1), False), (1, 1)),
+                (((5, 2), False, (9, 1), False), (3, 1)),
+                (((5, 2), True, (3, 1), False), (5, 2)), (((3, 2), False, (5, 3), False), (8, 5)),
+                (((1, 3), False, (1, 2), False), (2, 5)),
+                (((1, 3), True, (1, 2), True), (1, 2)), (((2, 5), True, (3, 7), True), (2, 5)),
+                (((2, 7), True, (2, 5), True), (1, 3)),
+                (((3, 1), True, (9, 1), True), (3, 1)), (((3, 1), False, (9, 1), True), (4, 1)),
+                (((5, 7), True, (5, 7), True), (5, 7)),
+                (((999999, 1000000), False, (1, 1), False), (1000000, 1000001)),
+                (((10 ** 15, 1), False, None, False), (10 ** 15 + 1, 1)),
+                (((0, 1), False, (1, 10 ** 15), False), (1, 10 ** 15 + 1)),
+                (((0, 1), False, (1, 10 ** 15), True), (1, 10 ** 15)),
+                ((LOW, False, HIGH, False), (1, 1)), ((HIGH, True, None, False), (4, 1)),
+                (((0, 1), False, LOW, True), (1, 4)),
+                ((ROOT_2, False, ROOT_3, False), (3, 2)), ((CUBE_2, True, ROOT_2, True), (4, 3)),
+                ((ROOT_2, True, (3, 2), False), (10, 7)),
                 ((TOLD[3][1], False, TOLD[4][0], True), (19601, 13860))]:
             with self.subTest(stretch=stretch):
                 self.assertEqual(simplest(stretch), expected)
@@ -132,13 +148,15 @@ class Simplest(unittest.TestCase):
             self.assertEqual(simplest(stretch), oracle.simplest_fraction(low, low_in, None, False), stretch)
 
     def test_roots_as_ends_tried_out(self):
-        spots = [place for row in TOLD for place in row] + [LOW, HIGH, ROOT_3, CUBE_2, root([-1, -14, 1], 14, 15), (7, 5), (5, 1)]
+        spots = [place for row in TOLD for place in row] + [LOW, HIGH, ROOT_3, CUBE_2, root([-1, -14, 1], 14, 15),
+            (7, 5), (5, 1)]
         for one, other in itertools.product(spots, spots):
             if compare(one, other) < 0:
                 for low_in, high_in in itertools.product((False, True), (False, True)):
                     low, high = [read(place) if place[0] != "root" else Fraction(near(place)) for place in (one, other)]
                     within = (low_in and one[0] != "root", high_in and other[0] != "root")
-                    self.assertEqual(simplest((one, low_in, other, high_in)), oracle.simplest_fraction(low, within[0], high, within[1]))
+                    self.assertEqual(simplest((one, low_in, other, high_in)),
+                        oracle.simplest_fraction(low, within[0], high, within[1]))
 
     def test_very_narrow_ranges(self):
         # Of two fractions with a determinant of 1 the sum, by parts, is the simplest one between.
@@ -169,8 +187,10 @@ class Has(unittest.TestCase):
     def test_told_lists(self):
         halves = [((0, 1), False, LOW, True), (LOW, True, (1, 1), False)]
         for told, place, expected in [
-                ([], (1, 1), False), ([], ROOT_2, False), ([ALL], (1, 10 ** 15), True), ([ALL], (10 ** 15, 1), True), ([ALL], ROOT_2, True),
-                (halves, LOW, True), (halves, (1, 1), False), (halves, (1, 2), True), (halves, HIGH, False), ([point(ROOT_2)], ROOT_2, True),
+                ([], (1, 1), False), ([], ROOT_2, False), ([ALL], (1, 10 ** 15), True), ([ALL], (10 ** 15, 1), True),
+                ([ALL], ROOT_2, True),
+                (halves, LOW, True), (halves, (1, 1), False), (halves, (1, 2), True), (halves, HIGH, False),
+                ([point(ROOT_2)], ROOT_2, True),
                 ([point(ROOT_2)], TOLD[3][1], True), ([point(ROOT_2)], (7, 5), False), ([point((7, 5))], (7, 5), True),
                 ([((1, 1), False, (2, 1), False)], (1, 1), False), ([((1, 1), False, (2, 1), False)], (2, 1), False),
                 ([((1, 1), True, (2, 1), True)], (1, 1), True), ([((1, 1), True, (2, 1), True)], (2, 1), True),
@@ -188,12 +208,7 @@ class Has(unittest.TestCase):
                 self.assertIs(has(told, source.choice(row)), 2 * k + 1 in cells([numbers]), told)
 
 
-class Sets(unittest.TestCase):
-    def check_new(self, found, given):
-        lists = oracle.lists_in(found)
-        self.assertEqual(len({id(part) for part in lists}), len(lists))
-        self.assertFalse({id(part) for part in lists} & {id(part) for part in oracle.lists_in(given)})
-
+class Sets(Checks):
     def check_pair(self, one, other, source):
         mine, yours = in_places(source, one), in_places(source, other)
         before = copy.deepcopy((mine, yours))
@@ -209,14 +224,17 @@ class Sets(unittest.TestCase):
     def test_told_unions(self):
         for told, expected in [
                 ([], []), ([ALL], [ALL]), ([ALL, ALL], [ALL]), ([point((1, 2)), ALL], [ALL]),
-                ([((0, 1), False, (1, 1), False), ((1, 1), False, None, False)], [((0, 1), False, (1, 1), False), ((1, 1), False, None, False)]),
-                ([((1, 1), False, None, False), ((0, 1), False, (1, 1), True)], [ALL]), ([((0, 1), False, (1, 1), False), ((1, 1), True, None, False)], [ALL]),
+                ([((0, 1), False, (1, 1), False), ((1, 1), False, None, False)],
+                [((0, 1), False, (1, 1), False), ((1, 1), False, None, False)]),
+                ([((1, 1), False, None, False), ((0, 1), False, (1, 1), True)], [ALL]),
+                ([((0, 1), False, (1, 1), False), ((1, 1), True, None, False)], [ALL]),
                 ([((0, 1), False, (1, 1), True), ((1, 1), True, None, False)], [ALL]),
                 ([((1, 1), False, None, False), point((1, 1)), ((0, 1), False, (1, 1), False)], [ALL]),
                 ([((2, 1), True, (4, 1), False), ((1, 1), True, (3, 1), True)], [((1, 1), True, (4, 1), False)]),
                 ([((2, 1), True, (3, 1), True), ((1, 1), False, (4, 1), False)], [((1, 1), False, (4, 1), False)]),
                 ([((1, 1), False, (2, 1), False), ((1, 1), True, (2, 1), False)], [((1, 1), True, (2, 1), False)]),
-                ([point((3, 1)), point((1, 1)), point((2, 1)), point((1, 1))], [point((1, 1)), point((2, 1)), point((3, 1))]),
+                ([point((3, 1)), point((1, 1)), point((2, 1)), point((1, 1))],
+                [point((1, 1)), point((2, 1)), point((3, 1))]),
                 ([((0, 1), False, LOW, True), (LOW, True, (1, 1), False)], [((0, 1), False, (1, 1), False)])]:
             with self.subTest(told=told):
                 self.assertEqual(united(told), expected)
@@ -224,11 +242,13 @@ class Sets(unittest.TestCase):
 
     def test_told_differences(self):
         for one, other, expected in [
-                ([], [], []), ([], [ALL], []), ([ALL], [], [ALL]), ([ALL], [ALL], []), ([ALL], [((1, 1), True, None, False)], [((0, 1), False, (1, 1), False)]),
+                ([], [], []), ([], [ALL], []), ([ALL], [], [ALL]), ([ALL], [ALL], []),
+                ([ALL], [((1, 1), True, None, False)], [((0, 1), False, (1, 1), False)]),
                 ([ALL], [((1, 1), False, None, False)], [((0, 1), False, (1, 1), True)]),
                 ([ALL], [point((1, 1))], [((0, 1), False, (1, 1), False), ((1, 1), False, None, False)]),
                 ([((1, 1), True, (2, 1), True)], [((1, 1), False, (2, 1), False)], [point((1, 1)), point((2, 1))]),
-                ([((1, 1), False, (2, 1), True), ((2, 1), True, (3, 1), True)], [point((5, 1))], [((1, 1), False, (3, 1), True)]),
+                ([((1, 1), False, (2, 1), True), ((2, 1), True, (3, 1), True)], [point((5, 1))],
+                [((1, 1), False, (3, 1), True)]),
                 ([point((1, 1))], [((1, 1), False, None, False)], [point((1, 1))]),
                 ([((1, 1), True, (5, 1), True)], [((2, 1), True, (3, 1), False), ((3, 1), True, (4, 1), True)],
                  [((1, 1), True, (2, 1), False), ((4, 1), False, (5, 1), True)])]:
@@ -238,8 +258,10 @@ class Sets(unittest.TestCase):
 
     def test_told_comparisons(self):
         for one, other, expected in [
-                ([], [], True), ([], [ALL], False), ([ALL], [], False), ([ALL], [ALL, point((1, 1))], True), ([point((1, 1))], [], False),
-                ([((0, 1), False, (1, 1), False)], [((0, 1), False, (1, 1), True)], False), ([point(ROOT_2)], [point(TOLD[3][1], TOLD[3][2])], True),
+                ([], [], True), ([], [ALL], False), ([ALL], [], False), ([ALL], [ALL, point((1, 1))], True),
+                ([point((1, 1))], [], False),
+                ([((0, 1), False, (1, 1), False)], [((0, 1), False, (1, 1), True)], False),
+                ([point(ROOT_2)], [point(TOLD[3][1], TOLD[3][2])], True),
                 ([point(ROOT_2)], [point(ROOT_3)], False), ([point(TOLD[3][0])], [point(TOLD[4][0])], False),
                 ([((0, 1), False, ROOT_2, False), (ROOT_2, False, None, False)], [ALL], False),
                 ([((0, 1), False, ROOT_2, False), (TOLD[3][1], True, None, False)], [ALL], True)]:
@@ -259,7 +281,8 @@ class Sets(unittest.TestCase):
         narrow = [numbers for numbers in told if numbers[2] is not None and numbers[2] - numbers[0] < 2]
         for _ in range(300):
             pool = source.choice([told, narrow])
-            self.check_pair(source.choices(pool, k=source.randint(0, 6)), source.choices(pool, k=source.randint(0, 6)), source)
+            self.check_pair(source.choices(pool, k=source.randint(0, 6)), source.choices(pool, k=source.randint(0, 6)),
+                source)
 
     def test_one_root_stands_in_several_places(self):
         # The ranges share one polynomial; what is returned must not.
@@ -272,74 +295,56 @@ class Sets(unittest.TestCase):
         self.assertEqual(united(told), first)
 
 
-class WrongInput(unittest.TestCase):
-    def check(self, error, passed, call, *arguments, **named):
-        before = copy.deepcopy((arguments, named))
-        with self.assertRaises(error) as held:
-            call(*arguments, **named)
-        self.assertIs(type(held.exception), error)
-        kept = held.exception.value
-        self.assertEqual((kept, type(kept)), (passed, type(passed)))
-        self.assertEqual((arguments, named), before)
-        lists = [id(part) for part in oracle.lists_in(kept)]
-        self.assertEqual(len(set(lists)), len(lists))
-        self.assertFalse(set(lists) & {id(part) for part in oracle.lists_in(list(arguments) + list(named.values()))})
-
+class WrongInput(Checks):
     def test_what_is_no_range(self):
         good = [((1, 1), True, (2, 1), True), (ROOT_2, False, None, False)]
         for bad in NO_RANGES:
             with self.subTest(bad=bad):
-                self.check(InvalidRange, bad, simplest, bad)
-                self.check(InvalidRange, bad, simplest, stretch=bad)
-                self.check(InvalidRange, bad, has, [bad], (1, 1))
-                self.check(InvalidRange, bad, has, good + [bad] + NO_RANGES, (1, 1))
-                self.check(InvalidRange, bad, has, place=ROOT_2, told=[bad])
-                self.check(InvalidRange, bad, united, [bad])
-                self.check(InvalidRange, bad, united, told=good + [bad, None])
+                self.check_error(InvalidRange, bad, simplest, bad)
+                self.check_error(InvalidRange, bad, simplest, stretch=bad)
+                self.check_error(InvalidRange, bad, has, [bad], (1, 1))
+                self.check_error(InvalidRange, bad, has, good + [bad] + NO_RANGES, (1, 1))
+                self.check_error(InvalidRange, bad, has, place=ROOT_2, told=[bad])
+                self.check_error(InvalidRange, bad, united, [bad])
+                self.check_error(InvalidRange, bad, united, told=good + [bad, None])
                 for call in (without, same):
-                    self.check(InvalidRange, bad, call, [bad], [])
-                    self.check(InvalidRange, bad, call, good, good + [bad, None])
-                    self.check(InvalidRange, bad, call, other=[()], one=[bad])
+                    self.check_error(InvalidRange, bad, call, [bad], [])
+                    self.check_error(InvalidRange, bad, call, good, good + [bad, None])
+                    self.check_error(InvalidRange, bad, call, other=[()], one=[bad])
 
     def test_a_place_is_asked_ahead_of_the_ranges(self):
         for bad in NO_PLACES:
             with self.subTest(bad=bad):
-                self.check(InvalidPlace, bad, has, [], bad)
-                self.check(InvalidPlace, bad, has, [()], bad)
-                self.check(InvalidPlace, bad, has, place=bad, told=[ALL])
+                self.check_error(InvalidPlace, bad, has, [], bad)
+                self.check_error(InvalidPlace, bad, has, [()], bad)
+                self.check_error(InvalidPlace, bad, has, place=bad, told=[ALL])
 
     def test_a_place_that_is_none_makes_a_range_none(self):
         for bad in NO_PLACES:
             with self.subTest(bad=bad):
                 if bad != (0, 1):
-                    self.check(InvalidRange, (bad, False, (10 ** 15, 1), True), simplest, (bad, False, (10 ** 15, 1), True))
+                    self.check_error(InvalidRange, (bad, False, (10 ** 15, 1), True), simplest,
+                        (bad, False, (10 ** 15, 1), True))
                 if bad is not None:
-                    self.check(InvalidRange, ((0, 1), False, bad, False), united, [((0, 1), False, bad, False)])
+                    self.check_error(InvalidRange, ((0, 1), False, bad, False), united, [((0, 1), False, bad, False)])
 
     def test_one_list_that_stands_in_a_range_twice(self):
         one = [-2, 0, 1]
         place = ("root", one, (1, 1), (2, 1))
-        self.check(InvalidRange, (place, True, place, False), simplest, (place, True, place, False))
-        self.check(InvalidRange, (place, False, place, False), same, [], [(place, False, place, False)])
+        self.check_error(InvalidRange, (place, True, place, False), simplest, (place, True, place, False))
+        self.check_error(InvalidRange, (place, False, place, False), same, [], [(place, False, place, False)])
 
 
-class NewLists(unittest.TestCase):
+class NewLists(Checks):
+    CALLS = [(simplest, [point(ROOT_2)]), (simplest, [(ROOT_2, True, ROOT_3, True)]),
+        (has, [[ALL, point(ROOT_2)], ROOT_2]),
+             (united, [[(LOW, True, HIGH, True), point(HIGH)]]), (without, [[ALL], [(LOW, True, HIGH, True)]]),
+             (same, [[ALL], [(LOW, True, HIGH, True)]]), (united, [[]]), (without, [[], []])]
+
     def test_nothing_is_changed_or_kept(self):
-        for call, arguments in [(simplest, [point(ROOT_2)]), (simplest, [(ROOT_2, True, ROOT_3, True)]), (has, [[ALL, point(ROOT_2)], ROOT_2]),
-                                (united, [[(LOW, True, HIGH, True), point(HIGH)]]), (without, [[ALL], [(LOW, True, HIGH, True)]]),
-                                (same, [[ALL], [(LOW, True, HIGH, True)]]), (united, [[]]), (without, [[], []])]:
-            with self.subTest(call.__name__):
-                before = copy.deepcopy(arguments)
-                found = call(*arguments)
-                self.assertEqual(arguments, before)
-                expected, lists = copy.deepcopy(found), oracle.lists_in(found)
-                given = {id(part) for part in oracle.lists_in(arguments)}
-                self.assertFalse({id(part) for part in lists} & given)
-                self.assertEqual(len({id(part) for part in lists}), len(lists))
-                for part in lists:
-                    part.append(9)
-                self.assertEqual(arguments, before)
-                self.assertEqual(call(*arguments), expected)
+        for call, arguments in self.CALLS:
+            with self.subTest(call.__name__, arguments=arguments):
+                self.check_nothing_kept(call, *arguments)
 
 
 if __name__ == "__main__":
