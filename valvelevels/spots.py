@@ -49,6 +49,7 @@ def order_by_fraction(root, spot):
 def order_of_roots(one, other):
     """Return -1, 0 or 1 if the one root lies below, on or above the other one."""
     _, told, low, high = other
+    # Most roots are parted by the fractions that they are told with, which costs least.
     if order_by_fraction(one, low) < 0 or order_by_fraction(other, one[3]) > 0:
         return -1
     if order_by_fraction(one, high) > 0 or order_by_fraction(other, one[2]) < 0:
