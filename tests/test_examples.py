@@ -23,6 +23,28 @@ PLACES = """
 [[((0, 1), False, (1, 1), False)], True, [((0, 1), False, (1, 1), False)], True]
 """
 
+WAYS = """
+>>> from valvelevels.scripts import Script
+>>> from valvelevels.ways import judge_ways, run, way_at, ways
+>>> chain = Script([(1, 6), (None, 0), (1, 0)], [("open", [0, 1]), ("open", [1, 2])])
+>>> [run(chain, (1, 1)), run(chain, (2, 1)), ways(chain), judge_ways(chain, ways(chain))]
+[(None, [(3, 1), (3, 2), (3, 2)]), (None, [(2, 1), (4, 3), (4, 3)]), [(None, [([6], [1, 1]), ([0, 6], [1, 2, 1]), ([0, 6], [1, 2, 1])], [((0, 1), False, None, False)])], True]
+>>> halt = Script([(2, 4), (None, 6)], [("unless", 0, 1), ("open", [0, 1]), ("scoop", 0, (1, 2))])
+>>> [run(halt, (4, 1)), run(halt, (3, 1)), [(index, widths) for index, forms, widths in ways(halt)], way_at(ways(halt), (1, 1))]
+[(0, [(2, 1), (3, 2)]), (None, [(1, 1), (2, 1)]), [(0, [((3, 1), False, None, False)]), (None, [((0, 1), False, (3, 1), True)])], (None, [(5, 3), (10, 3)])]
+"""
+
+SIGNS = """
+>>> from valvelevels.places import places
+>>> from valvelevels.scripts import Script
+>>> from valvelevels.signs import above, broken, even, highest, holds, over, over_by, runs_in
+>>> chain = Script([(1, 6), (None, 0), (1, 0)], [("open", [0, 1]), ("open", [1, 2])])
+>>> [above(chain, 0, 1), even(chain, 1, 2), above(chain, 1, 2), holds(chain, ("above", 0, 2)), broken(chain, ("not over", 2, (1, 1))), holds(chain, ("not over", 2, (3, 2))), highest(chain, 2), highest(chain, 0)]
+[[((0, 1), False, None, False)], [((0, 1), False, None, False)], [], True, (1, 1), True, ((3, 2), True), ((6, 1), False)]
+>>> [len(over(chain, 2, (1, 1))), over(chain, 2, (3, 2)), runs_in(chain, 1, 2), broken(chain, ("below", 0, 2)), over_by(Script([(2, 4), (None, 6)], [("unless", 0, 1)]), 0)]
+[1, [], [((0, 1), False, None, False)], (1, 1), [((3, 1), False, None, False)]]
+"""
+
 
 class Examples(unittest.TestCase):
     def run_section(self, name, text):
@@ -37,6 +59,12 @@ class Examples(unittest.TestCase):
 
     def test_places(self):
         self.run_section("places", PLACES)
+
+    def test_ways(self):
+        self.run_section("ways", WAYS)
+
+    def test_signs(self):
+        self.run_section("signs", SIGNS)
 
     def test_readme(self):
         text = (pathlib.Path(__file__).resolve().parent.parent / "README.md").read_text()

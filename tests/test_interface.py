@@ -3,7 +3,7 @@
 import inspect
 import unittest
 
-from valvelevels import errors, places, polynomials
+from valvelevels import errors, places, polynomials, scripts, signs, ways
 
 FUNCTIONS = {
     polynomials: {
@@ -12,13 +12,24 @@ FUNCTIONS = {
     places: {
         "row": ["one"], "turns": ["told", "spot"], "number_of_roots": ["one", "low", "high"], "places": ["one"],
         "sign": ["one", "place"], "compare": ["one", "other"], "simplest": ["stretch"],
-        "has": ["told", "place"], "united": ["told"], "without": ["one", "other"], "same": ["one", "other"]}}
+        "has": ["told", "place"], "united": ["told"], "without": ["one", "other"], "same": ["one", "other"]},
+    ways: {
+        "run": ["plan", "width"], "ways": ["plan"], "way_at": ["told", "width"], "judge_ways": ["plan", "told"]},
+    signs: {
+        "above": ["plan", "one", "other"], "even": ["plan", "one", "other"], "over": ["plan", "tank", "height"],
+        "runs_in": ["plan", "index", "tank"], "over_by": ["plan", "index"], "highest": ["plan", "tank"],
+        "holds": ["plan", "claim"], "broken": ["plan", "claim"]}}
+# Classes with their properties, their methods and the arguments of these.
+CLASSES = {
+    scripts.Script: (["tanks", "steps", "unknown"], {
+        "__init__": ["tanks", "steps"], "without": ["index"], "exchanged": ["index"], "__len__": [], "__eq__": ["other"],
+        "__getitem__": ["at"]})}
 
 
 class Interface(unittest.TestCase):
     def test_functions_are_defined_where_they_are_listed(self):
         for module, functions in FUNCTIONS.items():
-            for name, arguments in functions.items():
+            for name in functions:
                 with self.subTest(name):
                     function = getattr(module, name)
                     self.assertTrue(inspect.isfunction(function))
@@ -34,6 +45,21 @@ class Interface(unittest.TestCase):
                     for parameter in found.values():
                         self.assertEqual(parameter.kind, parameter.POSITIONAL_OR_KEYWORD)
                         self.assertIs(parameter.default, parameter.empty)
+
+    def test_classes_define_their_methods_themselves(self):
+        for made, (properties, methods) in CLASSES.items():
+            self.assertEqual(made.__module__.split(".")[0], "valvelevels")
+            self.assertEqual(made.__bases__, (object,))
+            for name in properties:
+                self.assertIsInstance(vars(made)[name], property)
+            for name, arguments in methods.items():
+                with self.subTest(name):
+                    found = inspect.signature(vars(made)[name]).parameters
+                    self.assertEqual(list(found)[1:], arguments)
+                    for parameter in found.values():
+                        self.assertEqual(parameter.kind, parameter.POSITIONAL_OR_KEYWORD)
+                        self.assertIs(parameter.default, parameter.empty)
+        self.assertEqual(scripts.Script.__module__, "valvelevels.scripts")
 
     def test_errors_take_a_value(self):
         self.assertEqual(list(inspect.signature(errors.TankError).parameters), ["value"])

@@ -18,6 +18,7 @@ METHODS = set("""append clear copy count endswith extend find get index insert i
     bit_length""".split())
 BARRED = set("""mro elements open input law version_info with_traceback add_note register attrgetter breakpoint
     compile delattr dir eval exec exit gc globals help importlib locals os super vars sys""".split())
+SPECIAL = {"__init__", "__len__", "__eq__", "__getitem__", "__iter__"}
 NODES = (ast.AsyncFunctionDef, ast.AsyncFor, ast.AsyncWith, ast.Await, ast.Global, ast.Div, ast.MatMult, ast.Set,
          ast.SetComp, ast.Try, ast.GeneratorExp, ast.Yield, ast.YieldFrom)
 
@@ -30,8 +31,14 @@ def trees():
     return {name: ast.parse(text) for name, text in modules().items()}
 
 
+def constants(tree):
+    """The statements at module level that give a name a value."""
+    return [node for node in tree.body if isinstance(node, ast.Assign)]
+
+
 def top_names(tree):
-    return [node.name for node in tree.body if isinstance(node, (ast.FunctionDef, ast.ClassDef))]
+    defined = [node.name for node in tree.body if isinstance(node, (ast.FunctionDef, ast.ClassDef))]
+    return defined + [node.targets[0].id for node in constants(tree)]
 
 
 def imports(tree):
@@ -92,11 +99,25 @@ class Language(unittest.TestCase):
             self.assertTrue(free, needs)
             needs = {name: needs[name] - set(free) for name in needs if name not in free}
 
+    def check_only_read(self, tree, table):
+        """That a dict at module level is only indexed, or asked whether it has a key."""
+        uses = {node for node in ast.walk(tree) if isinstance(node, ast.Name) and node.id == table}
+        read = {node.value for node in ast.walk(tree) if isinstance(node, ast.Subscript)}
+        read |= {other for node in ast.walk(tree) if isinstance(node, ast.Compare) for other in node.comparators}
+        self.assertEqual([type(node.ctx) for node in uses - read], [ast.Store], table)
+
     def test_module_level(self):
         for name, tree in trees().items():
             self.assertTrue(ast.get_docstring(tree), name)
             for node in tree.body[1:]:
-                self.assertIsInstance(node, (ast.ImportFrom, ast.FunctionDef, ast.ClassDef), name)
+                self.assertIsInstance(node, (ast.ImportFrom, ast.FunctionDef, ast.ClassDef, ast.Assign), name)
+            for node in constants(tree):
+                self.assertEqual([isinstance(target, ast.Name) for target in node.targets], [True], name)
+                given = ast.literal_eval(node.value)
+                self.assertIsInstance(given, (tuple, dict, int, str), name)
+                self.assertFalse([part for part in ast.walk(node.value) if isinstance(part, (ast.List, ast.Set))], name)
+                if isinstance(given, dict):
+                    self.check_only_read(tree, node.targets[0].id)
             names = top_names(tree) + [imported for _, imported in imports(tree)]
             self.assertEqual(len(set(names)), len(names), name)
 
@@ -116,7 +137,7 @@ class Language(unittest.TestCase):
                 if isinstance(node, ast.BinOp) and isinstance(node.op, ast.Pow):
                     self.assertIsInstance(node.right, ast.Constant, where)
                 if isinstance(node, (ast.FunctionDef, ast.ClassDef)):
-                    self.assertTrue(ast.get_docstring(node) or node.name == "__init__", where)
+                    self.assertTrue(ast.get_docstring(node) or node.name in ("__init__", "__iter__"), where)
                 if isinstance(node, ast.Starred) and isinstance(node.ctx, ast.Load):
                     self.assertIsInstance(node.value, (ast.Name, ast.Attribute), where)
 
@@ -127,7 +148,7 @@ class Language(unittest.TestCase):
             for function in functions(tree):
                 names = set(bound(function))
                 self.assertFalse(names & (imported | classes | GIVEN | BARRED), (name, function.name))
-                for used in names | {function.name} - {"__init__"}:
+                for used in names | {function.name} - SPECIAL:
                     self.assertFalse(used.startswith(("__", "_wall", "_pe_", "_cm_", "_law_")), (name, used))
             known = set(top_names(tree)) | imported
             self.assertFalse(known & (GIVEN | BARRED), name)

@@ -14,6 +14,11 @@ def order_of_fractions(one, other):
     return sign_of(one[0] * other[1] - other[0] * one[1])
 
 
+def less(one, other):
+    """Return the one fraction less the other one."""
+    return fraction(one[0] * other[1] - other[0] * one[1], one[1] * other[1])
+
+
 def midpoint(one, other):
     """Return the fraction halfway between two fractions."""
     return fraction(one[0] * other[1] + other[0] * one[1], 2 * one[1] * other[1])
@@ -138,6 +143,32 @@ def common_factor(one, other):
     while this:
         last, this = this, remainder(last, this)
     return upright(last)
+
+
+def power(number, many):
+    """Return a number times itself, as many times as told."""
+    product = 1
+    for _ in range(many):
+        product = product * number
+    return product
+
+
+def resultant(one, other):
+    """Return, without its sign, the resultant of two polynomials that have no common factor.
+
+    It is an integer that is the product of what the one is at all roots of the other one, times as many last
+    numbers of the other one as the one has roots.
+    """
+    if len(one) < len(other):
+        return resultant(other, one)
+    if len(other) == 1:
+        return power(abs(other[0]), len(one) - 1)
+    left, scale, lead = one, 1, abs(other[-1])
+    while len(left) >= len(other):
+        taken = [0] * (len(left) - len(other)) + [left[-1] * number for number in other]
+        left = cut([other[-1] * number - taken[k] for k, number in enumerate(left)])
+        scale = scale * lead
+    return resultant(other, left) * power(lead, len(one) - len(left)) // power(scale, len(other) - 1)
 
 
 def plain_of(one):

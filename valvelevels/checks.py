@@ -106,6 +106,12 @@ def check_fraction(spot):
         raise InvalidFraction(copied(spot))
 
 
+def check_width(width):
+    """Raise an error if something is no fraction above 0."""
+    if not is_fraction(width) or width[0] <= 0:
+        raise InvalidFraction(copied(width))
+
+
 def check_places(told):
     """Raise an error for the first of some things that is no place."""
     for place in told:

@@ -1,6 +1,8 @@
 """Ranges that are known to be right, and the sets of places that they make up."""
 
-from valvelevels.spots import copied_place, order_of_places
+from valvelevels.spots import copied_place, is_root, order_of_places
+
+ALL = ((0, 1), False, None, False)
 
 
 def side(stretch, place):
@@ -32,6 +34,24 @@ def simplest_of(stretch):
         if side(stretch, spot) == 0:
             return spot
         start, goal, way = spot, mixed(start, goal, steps - 1), -way
+
+
+def is_simpler(one, other):
+    """Return True if the one place is simpler than the other one."""
+    if is_root(one) and is_root(other):
+        return order_of_places(one, other) < 0
+    if is_root(one) or is_root(other):
+        return is_root(other)
+    return (one[1], one[0]) < (other[1], other[0])
+
+
+def simplest_in(told):
+    """Return the simplest place that lies in some ranges, None if there are none."""
+    found = None
+    for place in [simplest_of(stretch) for stretch in told]:
+        if found is None or is_simpler(place, found):
+            found = place
+    return found
 
 
 def mixed(start, goal, steps):
@@ -90,18 +110,23 @@ def ends_of(told):
     return [end for stretch in told for end in (stretch[0], stretch[2])]
 
 
-def filled(told, ranks, many):
-    """Return, of each cell between and on ranked ends, whether it lies in some ranges.
+def counted_cells(told, ranks, many):
+    """Return, of each cell between and on ranked ends, in how many of some ranges it lies.
 
     The end with rank k is cell 2 * k, what lies between it and the next one is the cell behind.
     """
-    cells = [False] * (2 * many)
+    cells = [0] * (2 * many)
     for k, stretch in enumerate(told):
         first = 2 * ranks[2 * k] + (0 if stretch[1] else 1)
         last = 2 * ranks[2 * k + 1] - (0 if stretch[3] else 1)
         for cell in range(first, last + 1):
-            cells[cell] = True
+            cells[cell] = cells[cell] + 1
     return cells
+
+
+def filled(told, ranks, many):
+    """Return, of each cell between and on ranked ends, whether it lies in some ranges."""
+    return [number > 0 for number in counted_cells(told, ranks, many)]
 
 
 def gathered(cells, ends):
@@ -135,7 +160,20 @@ def difference_of(one, other):
     return gathered([mine[k] and not yours[k] for k in range(len(mine))], ends)
 
 
+def overlap_of(one, other):
+    """Return the set of the places that lie in some ranges, and in some other ones, too."""
+    ends, mine, yours = cells_of(one, other)
+    return gathered([mine[k] and yours[k] for k in range(len(mine))], ends)
+
+
 def are_same(one, other):
     """Return True if two lists of ranges have the same places."""
     _, mine, yours = cells_of(one, other)
     return mine == yours
+
+
+def is_parted(told):
+    """Return True if each place lies in just one of some ranges."""
+    ends, ranks = ranked(ends_of(told + [ALL]))
+    # Neither 0, which comes first, nor what is beyond all widths, which comes last, is a place.
+    return all([number == 1 for number in counted_cells(told, ranks, len(ends))[1:-2]])
