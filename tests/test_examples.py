@@ -45,6 +45,44 @@ SIGNS = """
 [1, [], [((0, 1), False, None, False)], (1, 1), [((3, 1), False, None, False)]]
 """
 
+PAPERS = """
+>>> from valvelevels.papers import claim_polynomial, judge_paper, paper
+>>> from valvelevels.scripts import Script
+>>> chain = Script([(1, 6), (None, 0), (1, 0)], [("open", [0, 1]), ("open", [1, 2])])
+>>> [paper([1, -1, 1], "above"), paper([1, -4, 1], "above"), judge_paper([1, -1, 1], "above", [[2, -2, 2], [-1, 2], [-1]]), judge_paper([1, -1, 1], "below", paper([1, -1, 1], "above")), claim_polynomial(chain, ("above", 0, 2)), claim_polynomial(chain, ("not over", 2, (1, 1)))]
+[[[1, -1, 1], [-1, 2], [-1]], None, True, False, [6, 12, 6], [-1, 2, 6, 2, -1]]
+"""
+
+CHANGES = """
+>>> from valvelevels.changes import alike, first_unlike, least_sets, may_exchange, needless, unlike
+>>> from valvelevels.scripts import Script
+>>> tanks = [(1, 6), (None, 0), (1, 0)]
+>>> both, whole = Script(tanks, [("open", [0, 1]), ("open", [0, 2])]), Script(tanks, [("open", [0, 2]), ("open", [0, 1])])
+>>> [alike(both, whole), first_unlike(both, whole), needless(Script(tanks, [("open", [0, 1]), ("open", [0, 1]), ("pour", 2, 0)])), least_sets(Script(tanks, [("open", [0, 1]), ("open", [0, 1])])), may_exchange(Script(tanks, [("pour", 0, 2), ("pour", 2, 1)]), 0)]
+[False, (1, 1), [0, 1, 2], [[0], [1]], True]
+>>> [unlike(both, whole), unlike(Script(tanks, []), Script(tanks, [("unless", 0, 2), ("pour", 0, 1)]))]
+[[((0, 1), False, None, False)], []]
+"""
+
+LIMITS = """
+>>> from valvelevels.limits import from_where, great, great_way, small, small_way
+>>> from valvelevels.scripts import Script
+>>> halt = Script([(2, 4), (None, 6)], [("unless", 0, 1), ("open", [0, 1]), ("scoop", 0, (1, 2))])
+>>> [small(halt), great(halt), small_way(halt), great_way(halt), from_where(halt)]
+[[(5, 2), (5, 1)], [(2, 1), (0, 1)], None, 0, ((3, 1), (3, 1))]
+"""
+
+SLOPES = """
+>>> from valvelevels.scripts import Script
+>>> from valvelevels.slopes import falling, peaks, rising, still, tells_width
+>>> chain = Script([(1, 6), (None, 0), (1, 0)], [("open", [0, 1]), ("open", [1, 2])])
+>>> [rising(chain, 2), falling(chain, 2), still(chain, 2), peaks(chain, 2), tells_width(chain, 0), tells_width(chain, 2)]
+[[((0, 1), False, (1, 1), False)], [((1, 1), False, None, False)], [], [(1, 1)], True, False]
+>>> leap = Script([(2, 4), (None, 6)], [("unless", 0, 1), ("pour", 0, 2)])
+>>> [still(leap, 0), peaks(leap, 0), rising(leap, 1)]
+[[((0, 1), False, (3, 1), False), ((3, 1), False, None, False)], [], []]
+"""
+
 
 class Examples(unittest.TestCase):
     def run_section(self, name, text):
@@ -65,6 +103,18 @@ class Examples(unittest.TestCase):
 
     def test_signs(self):
         self.run_section("signs", SIGNS)
+
+    def test_papers(self):
+        self.run_section("papers", PAPERS)
+
+    def test_changes(self):
+        self.run_section("changes", CHANGES)
+
+    def test_limits(self):
+        self.run_section("limits", LIMITS)
+
+    def test_slopes(self):
+        self.run_section("slopes", SLOPES)
 
     def test_readme(self):
         text = (pathlib.Path(__file__).resolve().parent.parent / "README.md").read_text()

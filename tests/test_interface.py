@@ -3,7 +3,7 @@
 import inspect
 import unittest
 
-from valvelevels import errors, places, polynomials, scripts, signs, ways
+from valvelevels import changes, errors, limits, papers, places, polynomials, scripts, signs, slopes, ways
 
 FUNCTIONS = {
     polynomials: {
@@ -18,7 +18,17 @@ FUNCTIONS = {
     signs: {
         "above": ["plan", "one", "other"], "even": ["plan", "one", "other"], "over": ["plan", "tank", "height"],
         "runs_in": ["plan", "index", "tank"], "over_by": ["plan", "index"], "highest": ["plan", "tank"],
-        "holds": ["plan", "claim"], "broken": ["plan", "claim"]}}
+        "holds": ["plan", "claim"], "broken": ["plan", "claim"]},
+    papers: {
+        "paper": ["one", "word"], "judge_paper": ["one", "word", "told"], "claim_polynomial": ["plan", "claim"]},
+    changes: {
+        "alike": ["one", "other"], "unlike": ["one", "other"], "first_unlike": ["one", "other"], "needless": ["plan"],
+        "least_sets": ["plan"], "may_exchange": ["plan", "index"]},
+    limits: {
+        "small": ["plan"], "great": ["plan"], "small_way": ["plan"], "great_way": ["plan"], "from_where": ["plan"]},
+    slopes: {
+        "rising": ["plan", "tank"], "falling": ["plan", "tank"], "still": ["plan", "tank"], "peaks": ["plan", "tank"],
+        "tells_width": ["plan", "tank"]}}
 # Classes with their properties, their methods and the arguments of these.
 CLASSES = {
     scripts.Script: (["tanks", "steps", "unknown"], {

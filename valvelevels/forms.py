@@ -7,14 +7,12 @@ from valvelevels.algebra import (
 
 
 def reduced(top, bottom):
-    """Return the form of top by bottom, a polynomial that is not 0, in lowest terms."""
+    """Return the form of top by bottom, whose last number is above 0, in lowest terms."""
     if not top:
         return [], [1]
     factor = common_factor(top, bottom)
     above, below = quotient(top, factor), quotient(bottom, factor)
     number = gcd(content(above), content(below))
-    if below[-1] < 0:
-        number = -number
     return [part // number for part in above], [part // number for part in below]
 
 

@@ -92,11 +92,10 @@ def fraction_at(form, root):
 def bounds(form, low, high):
     """Return fractions that a form, nowhere below 0, is not below and not above between two; None for no bound."""
     top, bottom = form
-    under = least_of(bottom, low, high)
+    under, over = least_of(bottom, low, high), most_of(bottom, low, high)
     if under[0] <= 0:
         return (0, 1), None
-    least, most = least_of(top, low, high), less((0, 1), least_of(negated(top), low, high))
-    over = less((0, 1), least_of(negated(bottom), low, high))
+    least, most = least_of(top, low, high), most_of(top, low, high)
     return fraction(max(0, least[0]) * over[1], least[1] * over[0]), fraction(most[0] * under[1], most[1] * under[0])
 
 
@@ -104,6 +103,11 @@ def least_of(one, low, high):
     """Return a fraction that a polynomial is not below between two fractions from 0 on."""
     ups, downs = [max(0, number) for number in one], [max(0, -number) for number in one]
     return less(value_at(ups, low), value_at(downs, high))
+
+
+def most_of(one, low, high):
+    """Return a fraction that a polynomial is not above between two fractions from 0 on."""
+    return less((0, 1), least_of(negated(one), low, high))
 
 
 def halved(told, low, high):

@@ -91,3 +91,10 @@ def check_exchange(index, many):
     check_index(index, many)
     if index + 1 >= many:
         raise UnknownStep(index)
+
+
+def check_no_unless(plan):
+    """Raise an error for the first `unless` of a script."""
+    for step in plan.steps:
+        if step[0] == "unless":
+            raise InvalidStep(step)
