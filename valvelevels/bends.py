@@ -5,9 +5,9 @@ A trend is 1 where a level rises, -1 where it falls and 0 where it stands still.
 
 from valvelevels.algebra import sign_at_fraction
 from valvelevels.courses import courses_of
-from valvelevels.forms import crossed, slope_of_form
+from valvelevels.forms import crossed, slope_of_form, turning_places
 from valvelevels.regions import between
-from valvelevels.spots import copied_place, places_of, sign_at_place
+from valvelevels.spots import copied_place, sign_at_place
 from valvelevels.stretches import ALL, ends_of, lies_in, ranked, union_of
 
 
@@ -37,8 +37,7 @@ def ends_of_level(told, tank):
     """Return 0, the places at which a level may turn or go on in another way, ascending, and None."""
     ends = ends_of([ALL])
     for _, forms, widths in told:
-        slope = slope_of_form(forms[tank])
-        ends = ends + ends_of(widths) + (places_of(slope) if slope else [])
+        ends = ends + ends_of(widths) + turning_places(forms[tank])
     return ranked(ends)[0]
 
 

@@ -1,13 +1,14 @@
 """Scripts that do the same, where others do not, and steps that can be left out or exchanged."""
 
 from valvelevels.checks import copied
-from valvelevels.courses import courses_of
+from valvelevels.courses import courses_of, shared_ways
 from valvelevels.errors import InvalidTank
 from valvelevels.forms import crossed, gap
 from valvelevels.plans import check_exchange
 from valvelevels.regions import is_zero_in, where
 from valvelevels.scripts import Script
 from valvelevels.stretches import overlap_of, simplest_in, union_of
+from valvelevels.subsets import sets_of
 
 
 def alike(one, other):
@@ -58,15 +59,9 @@ def check_same_tanks(one, other):
         raise InvalidTank(copied(other[len(one)]))
 
 
-def shared(one, other):
-    """Return tuples (forms, others, widths) of all pairs of ways of two scripts that have widths in common."""
-    pairs = [(mine, yours, overlap_of(widths, stretches)) for _, mine, widths in one for _, yours, stretches in other]
-    return [pair for pair in pairs if pair[2]]
-
-
 def are_alike(one, other):
     """Return True if, in all ways of two scripts, the levels are the same."""
-    for mine, yours, widths in shared(one, other):
+    for mine, yours, widths in shared_ways(one, other):
         if not all([is_zero_in(crossed(form, yours[k]), widths) for k, form in enumerate(mine)]):
             return False
     return True
@@ -75,20 +70,7 @@ def are_alike(one, other):
 def widths_apart(one, other):
     """Return the set of the widths at which, in all ways of two scripts, levels are not the same."""
     found = []
-    for mine, yours, widths in shared(one, other):
+    for mine, yours, widths in shared_ways(one, other):
         for k, form in enumerate(mine):
             found = found + overlap_of(widths, where(gap(form, yours[k]), (-1, 1)))
     return union_of(found)
-
-
-def sets_of(many):
-    """Return all ascending lists of some of that many indexes, by their number, then as lists."""
-    found = [[]]
-    for k in range(many):
-        found = found + [chosen + [k] for chosen in found]
-    return sorted(found, key=ordered)
-
-
-def ordered(chosen):
-    """Return by what lists are put in order."""
-    return len(chosen), chosen

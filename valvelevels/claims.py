@@ -36,6 +36,11 @@ def widths_with(told, claim, signs):
     return union_of(found)
 
 
+def widths_that_keep(told, claim):
+    """Return the set of the widths, of all ways of a script, at which a claim holds."""
+    return widths_with(told, claim, CLAIMS[claim[0]])
+
+
 def widths_that_break(told, claim):
     """Return the set of the widths, of all ways of a script, at which a claim does not hold."""
     return widths_with(told, claim, [sign for sign in (-1, 0, 1) if sign not in CLAIMS[claim[0]]])

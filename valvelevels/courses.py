@@ -19,6 +19,12 @@ def courses_of(plan):
     return found + [(None, levels(water, widths, 1), left)] if left else found
 
 
+def shared_ways(one, other):
+    """Return tuples (forms, others, widths) of all pairs of ways of two scripts that have widths in common."""
+    pairs = [(mine, yours, overlap_of(widths, stretches)) for _, mine, widths in one for _, yours, stretches in other]
+    return [pair for pair in pairs if pair[2]]
+
+
 def widths_done(told, index):
     """Return the set of the widths at which a step that is no `unless` is done, by all ways of its script."""
     return union_of([stretch for over, _, widths in told if over is None or over > index for stretch in widths])

@@ -4,6 +4,7 @@ from math import gcd
 
 from valvelevels.algebra import (
     added, common_factor, content, cut, fraction, multiplied, negated, quotient, slope, value_at)
+from valvelevels.spots import places_of
 
 
 def reduced(top, bottom):
@@ -64,3 +65,9 @@ def slope_of_form(form):
     """Return a polynomial that is above 0 where a form rises, and below 0 where it falls."""
     top, bottom = form
     return added(multiplied(slope(top), bottom), negated(multiplied(top, slope(bottom))))
+
+
+def turning_places(form):
+    """Return the places at which a form may turn, ascending; none of one that is the same everywhere."""
+    told = slope_of_form(form)
+    return places_of(told) if told else []

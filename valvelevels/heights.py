@@ -3,8 +3,8 @@
 from valvelevels.algebra import (
     common_factor, fraction, less, midpoint, negated, order_of_fractions, power, quotient, resultant,
     sign_at_fraction, value_at)
-from valvelevels.forms import constant, crossed, far_off, form_at, near_zero, slope_of_form
-from valvelevels.spots import is_root, places_of, sign_at_place
+from valvelevels.forms import constant, crossed, far_off, form_at, near_zero, turning_places
+from valvelevels.spots import is_root, sign_at_place
 from valvelevels.stretches import side, simplest_of
 
 
@@ -51,8 +51,7 @@ def candidates(told, tank):
     found = []
     for _, forms, widths in told:
         form = forms[tank]
-        slope = slope_of_form(form)
-        turning = places_of(slope) if slope else []
+        turning = turning_places(form)
         for stretch in widths:
             low, low_in, high, high_in = stretch
             spots = [(low, low_in), (high, high_in), (simplest_of(stretch), True)]

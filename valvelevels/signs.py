@@ -1,7 +1,7 @@
 """At which widths levels at the end of a script stand as somebody says, and claims of it."""
 
 from valvelevels.checks import check_fraction
-from valvelevels.claims import check_claim, widths_that_break, widths_with
+from valvelevels.claims import check_claim, widths_that_break, widths_that_keep
 from valvelevels.courses import courses_of, widths_over, widths_running
 from valvelevels.errors import UnknownStep
 from valvelevels.heights import highest_of
@@ -12,20 +12,20 @@ from valvelevels.stretches import simplest_in
 def above(plan, one, other):
     """Return the set of the widths at which the level of the one tank is above that of the other one."""
     check_numbers([one, other], len(plan.tanks))
-    return widths_with(courses_of(plan), ("above", one, other), (1,))
+    return widths_that_keep(courses_of(plan), ("above", one, other))
 
 
 def even(plan, one, other):
     """Return the set of the widths at which the levels of two tanks are even."""
     check_numbers([one, other], len(plan.tanks))
-    return widths_with(courses_of(plan), ("even", one, other), (0,))
+    return widths_that_keep(courses_of(plan), ("even", one, other))
 
 
 def over(plan, tank, height):
     """Return the set of the widths at which the level of a tank is above a height."""
     check_numbers([tank], len(plan.tanks))
     check_fraction(height)
-    return widths_with(courses_of(plan), ("not over", tank, height), (1,))
+    return widths_that_break(courses_of(plan), ("not over", tank, height))
 
 
 def runs_in(plan, index, tank):

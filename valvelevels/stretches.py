@@ -141,34 +141,37 @@ def gathered(cells, ends):
     return found
 
 
-def cells_of(one, other):
-    """Return the ranked ends of two lists of ranges and, for either list, which cells it fills."""
-    ends, ranks = ranked(ends_of(one) + ends_of(other))
-    parts = 2 * len(one)
-    return ends, filled(one, ranks[:parts], len(ends)), filled(other, ranks[parts:], len(ends))
+def cells_of(lists):
+    """Return the ranked ends of all of some lists of ranges and, for each list, which cells it fills."""
+    ends, ranks = ranked([end for told in lists for end in ends_of(told)])
+    found, behind = [], 0
+    for told in lists:
+        found = found + [filled(told, ranks[behind:behind + 2 * len(told)], len(ends))]
+        behind = behind + 2 * len(told)
+    return ends, found
 
 
 def union_of(told):
     """Return the set of all places that lie in some ranges."""
-    ends, cells, _ = cells_of(told, [])
-    return gathered(cells, ends)
+    ends, cells = cells_of([told])
+    return gathered(cells[0], ends)
 
 
 def difference_of(one, other):
     """Return the set of the places that lie in some ranges, and in none of some other ones."""
-    ends, mine, yours = cells_of(one, other)
+    ends, (mine, yours) = cells_of([one, other])
     return gathered([mine[k] and not yours[k] for k in range(len(mine))], ends)
 
 
 def overlap_of(one, other):
     """Return the set of the places that lie in some ranges, and in some other ones, too."""
-    ends, mine, yours = cells_of(one, other)
+    ends, (mine, yours) = cells_of([one, other])
     return gathered([mine[k] and yours[k] for k in range(len(mine))], ends)
 
 
 def are_same(one, other):
     """Return True if two lists of ranges have the same places."""
-    _, mine, yours = cells_of(one, other)
+    _, (mine, yours) = cells_of([one, other])
     return mine == yours
 
 
