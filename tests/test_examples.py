@@ -83,6 +83,55 @@ SLOPES = """
 [[((0, 1), False, (3, 1), False), ((3, 1), False, None, False)], [], []]
 """
 
+SHARES = """
+>>> from valvelevels.scripts import Script
+>>> from valvelevels.shares import enough, shares
+>>> poured = Script([(1, 6), (None, 0)], [("open", [0, 1]), ("pour", 0, 2)])
+>>> [shares(poured, 0), shares(poured, 1), enough(poured, 1, 0, (5, 2)), enough(poured, 1, 1, (1, 2))]
+[[([1], [1, 1]), ([1], [1, 1]), ([1], [1])], [([1], [1, 1]), ([1], [1, 1]), ([], [1])], 3, None]
+"""
+
+GUESSES = """
+>>> from valvelevels.guesses import fitting, tells_most, told_back
+>>> from valvelevels.scripts import Script
+>>> halt, plain = Script([(2, 4), (None, 6)], []), Script([(2, 4), (None, 6)], [("open", [0, 1])])
+>>> [fitting(halt, [(0, "above", 1)]), fitting(halt, [(0, "even", 1)]), told_back([halt, plain], [[(1, "above", 0)], [(0, "even", 1)]]), tells_most([plain, halt], [((1, 1), True, (5, 1), True)], 0, 1)]
+[[((3, 1), False, None, False)], [((3, 1), True, (3, 1), True)], [((0, 1), False, (3, 1), False)], 1]
+"""
+
+CHOICES = """
+>>> from valvelevels.choices import advice, best, choose, fewest
+>>> from valvelevels.scripts import Script
+>>> tanks = [(2, 4), (None, 6)]
+>>> plans = [Script(tanks, []), Script(tanks, [("open", [0, 1])]), Script(tanks, [("scoop", 0, (1, 2))])]
+>>> whole = [((0, 1), False, None, False)]
+>>> [best(plans, 0), fewest(plans, 0), choose(plans, [((4, 1), True, None, False)], 0), choose(plans, whole, 0), advice(plans, whole, plans[0], 0, 1, 0)]
+[[[((3, 1), True, None, False)], [((0, 1), False, (3, 1), True)], []], [0, 1], 0, None, [('above', 0), ('even', 0), ('below', 1)]]
+"""
+
+BENCHES = """
+>>> from valvelevels.benches import Bench
+>>> bench = Bench([(2, 4), (None, 6)], (4, 1))
+>>> [bench.levels(), bench(("open", [0, 1])), bench.levels(), bench.water(), bench(("unless", 0, 1)), bench.undo(), bench.undo(), bench(("unless", 0, 1)), bench.ended, len(bench)]
+[[(2, 1), (3, 2)], False, [(5, 3), (5, 3)], (10, 1), False, None, None, True, 0, 1]
+"""
+
+GAUGES = """
+>>> from valvelevels.gauges import Gauge
+>>> gauge = Gauge([(2, 4), (None, 6)], [((0, 1), False, None, False)])
+>>> [gauge.see(0, "above", 1), gauge.widths(), gauge(("open", [0, 1])), gauge.may_see(0, 1), gauge.sure(("even", 0, 1)), gauge.sure(("not over", 0, (2, 1))), gauge.undo(), len(gauge)]
+[True, [((3, 1), False, None, False)], None, ['even'], True, True, None, 1]
+"""
+
+READINGS = """
+>>> from valvelevels.readings import read_polynomial, read_script
+>>> from valvelevels.scripts import Script
+>>> from valvelevels.texts import show_polynomial, show_script
+>>> plan = Script([(2, 4), (None, 6), (1, 0)], [("open", [0, 1, 2]), ("move", 0, 2, (1, 3)), ("pour", 1, 5), ("unless", 2, 0)])
+>>> [show_script(plan), read_script(show_script(plan)) == plan, show_polynomial([1, -4, 1]), read_polynomial("0")]
+['4 in 2, 6 in w, 0 in 1; open 0,1,2; move 0 2 1/3; pour 1 5; unless 2 0', True, '1 -4 1', []]
+"""
+
 
 class Examples(unittest.TestCase):
     def run_section(self, name, text):
@@ -115,6 +164,24 @@ class Examples(unittest.TestCase):
 
     def test_slopes(self):
         self.run_section("slopes", SLOPES)
+
+    def test_shares(self):
+        self.run_section("shares", SHARES)
+
+    def test_guesses(self):
+        self.run_section("guesses", GUESSES)
+
+    def test_choices(self):
+        self.run_section("choices", CHOICES)
+
+    def test_benches(self):
+        self.run_section("benches", BENCHES)
+
+    def test_gauges(self):
+        self.run_section("gauges", GAUGES)
+
+    def test_readings(self):
+        self.run_section("readings", READINGS)
 
     def test_readme(self):
         text = (pathlib.Path(__file__).resolve().parent.parent / "README.md").read_text()

@@ -3,7 +3,9 @@
 import inspect
 import unittest
 
-from valvelevels import changes, errors, limits, papers, places, polynomials, scripts, signs, slopes, ways
+from valvelevels import (
+    benches, changes, choices, errors, gauges, guesses, limits, papers, places, polynomials, readings, scripts, shares,
+    signs, slopes, texts, ways)
 
 FUNCTIONS = {
     polynomials: {
@@ -28,12 +30,32 @@ FUNCTIONS = {
         "small": ["plan"], "great": ["plan"], "small_way": ["plan"], "great_way": ["plan"], "from_where": ["plan"]},
     slopes: {
         "rising": ["plan", "tank"], "falling": ["plan", "tank"], "still": ["plan", "tank"], "peaks": ["plan", "tank"],
-        "tells_width": ["plan", "tank"]}}
+        "tells_width": ["plan", "tank"]},
+    shares: {
+        "shares": ["plan", "tank"], "enough": ["plan", "index", "tank", "height"]},
+    guesses: {
+        "fitting": ["plan", "seen"], "told_back": ["plans", "seen"], "tells_most": ["plans", "known", "one", "other"]},
+    choices: {
+        "best": ["plans", "tank"], "fewest": ["plans", "tank"], "choose": ["plans", "known", "tank"],
+        "advice": ["plans", "known", "look", "one", "other", "tank"]},
+    texts: {
+        "show_script": ["plan"], "show_polynomial": ["one"]},
+    readings: {
+        "read_script": ["text"], "read_polynomial": ["text"]}}
 # Classes with their properties, their methods and the arguments of these.
 CLASSES = {
     scripts.Script: (["tanks", "steps", "unknown"], {
         "__init__": ["tanks", "steps"], "without": ["index"], "exchanged": ["index"], "__len__": [], "__eq__": ["other"],
-        "__getitem__": ["at"]})}
+        "__getitem__": ["at"]}),
+    benches.Bench: (["ended"], {
+        "__init__": ["tanks", "width"], "__call__": ["step"], "levels": [], "water": [], "undo": [], "script": [],
+        "__len__": [], "__eq__": ["other"]}),
+    gauges.Gauge: ([], {
+        "__init__": ["tanks", "known"], "__call__": ["step"], "see": ["one", "word", "other"],
+        "stop": ["one", "other", "seen"], "widths": [], "may_see": ["one", "other"], "sure": ["claim"], "undo": [],
+        "script": [], "__len__": [], "__eq__": ["other"]})}
+FILES = {scripts.Script: "valvelevels.scripts", benches.Bench: "valvelevels.benches",
+         gauges.Gauge: "valvelevels.gauges"}
 
 
 class Interface(unittest.TestCase):
@@ -58,7 +80,7 @@ class Interface(unittest.TestCase):
 
     def test_classes_define_their_methods_themselves(self):
         for made, (properties, methods) in CLASSES.items():
-            self.assertEqual(made.__module__.split(".")[0], "valvelevels")
+            self.assertEqual(made.__module__, FILES[made])
             self.assertEqual(made.__bases__, (object,))
             for name in properties:
                 self.assertIsInstance(vars(made)[name], property)
@@ -69,7 +91,6 @@ class Interface(unittest.TestCase):
                     for parameter in found.values():
                         self.assertEqual(parameter.kind, parameter.POSITIONAL_OR_KEYWORD)
                         self.assertIs(parameter.default, parameter.empty)
-        self.assertEqual(scripts.Script.__module__, "valvelevels.scripts")
 
     def test_errors_take_a_value(self):
         self.assertEqual(list(inspect.signature(errors.TankError).parameters), ["value"])

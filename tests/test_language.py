@@ -18,9 +18,9 @@ METHODS = set("""append clear copy count endswith extend find get index insert i
     bit_length""".split())
 BARRED = set("""mro elements open input law version_info with_traceback add_note register attrgetter breakpoint
     compile delattr dir eval exec exit gc globals help importlib locals os super vars sys""".split())
-SPECIAL = {"__init__", "__len__", "__eq__", "__getitem__", "__iter__"}
+SPECIAL = {"__init__", "__len__", "__eq__", "__getitem__", "__iter__", "__call__"}
 NODES = (ast.AsyncFunctionDef, ast.AsyncFor, ast.AsyncWith, ast.Await, ast.Global, ast.Div, ast.MatMult, ast.Set,
-         ast.SetComp, ast.Try, ast.GeneratorExp, ast.Yield, ast.YieldFrom)
+         ast.SetComp, ast.GeneratorExp, ast.Yield, ast.YieldFrom)
 
 
 def modules():
@@ -140,6 +140,18 @@ class Language(unittest.TestCase):
                     self.assertTrue(ast.get_docstring(node) or node.name in ("__init__", "__iter__"), where)
                 if isinstance(node, ast.Starred) and isinstance(node.ctx, ast.Load):
                     self.assertIsInstance(node.value, (ast.Name, ast.Attribute), where)
+
+    def test_errors_that_are_caught(self):
+        own = set(top_names(trees()["errors"]))
+        for name, tree in trees().items():
+            for node in ast.walk(tree):
+                if isinstance(node, ast.Try):
+                    self.assertEqual([node.orelse, node.finalbody], [[], []], (name, node.lineno))
+                    for handler in node.handlers:
+                        self.assertIn(handler.type.id, own, (name, handler.lineno))
+                        self.assertIs(handler.name, None, (name, handler.lineno))
+                if isinstance(node, ast.Raise) and node.exc is not None:
+                    self.assertIn(node.exc.func.id, own | {"TypeError"}, (name, node.lineno))
 
     def test_names(self):
         for name, tree in trees().items():

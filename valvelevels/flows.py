@@ -105,14 +105,33 @@ def levels(water, widths, scale):
     return [reduced(multiplied(one, [scale]), multiplied(whole, widths[k])) for k, one in enumerate(amounts)]
 
 
+def number_of(form):
+    """Return the fraction that a form is which has no unknown width in it."""
+    top, bottom = form
+    return (top[0] if top else 0, bottom[0])
+
+
+def is_ended(step, water, widths):
+    """Return True if, at a told width, a script is over by a step."""
+    return step[0] == "unless" and sign_at_fraction(ahead(step, water, widths), (1, 1)) > 0
+
+
+def told_levels(water, widths, spot):
+    """Return the levels of all tanks at a told width, fractions."""
+    return [number_of(form) for form in levels(water, widths, spot[1])]
+
+
+def all_water(water):
+    """Return the amount of all water at a told width, a fraction."""
+    amounts, whole = water
+    return number_of(reduced(sum_of(amounts), whole))
+
+
 def run_of(tanks, steps, spot):
     """Return what a script does at a width: by which `unless` it is over, or None, and the levels."""
-    widths, water, over = told_widths(tanks, spot), first_water(tanks), None
+    widths, water = told_widths(tanks, spot), first_water(tanks)
     for index, step in enumerate(steps):
-        if step[0] != "unless":
-            water = after(step, water, widths)
-        elif sign_at_fraction(ahead(step, water, widths), (1, 1)) > 0:
-            over = index
-            break
-    forms = levels(water, widths, spot[1])
-    return over, [(top[0] if top else 0, bottom[0]) for top, bottom in forms]
+        if is_ended(step, water, widths):
+            return index, told_levels(water, widths, spot)
+        water = after(step, water, widths)
+    return None, told_levels(water, widths, spot)
